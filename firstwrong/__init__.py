@@ -1,0 +1,1 @@
+"""Firstwrong: every forbidden deed of a C-like program, at its first place."""

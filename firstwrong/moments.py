@@ -1,0 +1,54 @@
+"""Moments of a run: memory, locks, stacks, what was asked, given, what is wrong."""
+
+from firstwrong.errors import BadMoment
+from firstwrong.kinds import is_same
+from firstwrong.momentparts import MomentJudge, Sure, ascending
+from firstwrong.starts import first_parts
+from firstwrong.trees import need_program
+
+
+class Moment:
+    """A moment of a run of a program."""
+
+    def __init__(self, program, lives, memory, held, stacks, asked, given, wrong):
+        need_program(program)
+        if isinstance(lives, Sure):
+            lives = lives.lives
+        else:
+            judge = MomentJudge(program, is_todo)
+            judge.judge(lives, memory, held, stacks, asked, given, wrong)
+        self.program = program
+        self.lives = tuple(lives)
+        self.memory = ascending(memory)
+        self.held = held
+        self.stacks = stacks
+        self.asked = asked
+        self.given = given
+        self.wrong = wrong
+
+    def __eq__(self, other):
+        if not isinstance(other, Moment):
+            return False
+        if self.program != other.program or self.lives != other.lives or self.memory != other.memory:
+            return False
+        return (self.held == other.held and self.stacks == other.stacks and self.asked == other.asked
+                and self.given == other.given and self.wrong == other.wrong)
+
+
+def is_todo(program, function, thing):
+    """Whether any value is one of the todos of a function."""
+    return any([is_same(thing, todo) for todo in program.todos[function]])
+
+
+def need_moment(moment):
+    """Refuses what is no Moment."""
+    if not isinstance(moment, Moment):
+        raise BadMoment(None)
+
+
+def begun(program):
+    """The first moment of each run of a program."""
+    need_program(program)
+    starts = [program.functions[program.names.functions[word]][5] for word in program.threads]
+    lives, memory, held, stacks = first_parts(program, starts)
+    return Moment(program, Sure(lives), memory, held, stacks, 0, (), None)

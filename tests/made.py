@@ -1,0 +1,226 @@
+"""Programs, moments and weavings for the tests, made by seeds."""
+
+import random
+
+from firstwrong.errors import WrongError
+from firstwrong.moments import begun
+from firstwrong.steps import can_step, stepped
+from firstwrong.trees import Program
+
+CELLS = ("int", "byte", ("to", "int"), ("to", "byte"))
+SORTS = CELLS + (("to", ("to", "int")), ("to", ("to", "byte")))
+
+
+def I(number):
+    return ("int", number)
+
+
+def L(word):
+    return ("local", word)
+
+
+def program(body, locals_=(), shared=(), locks=(), blocks=(), params=(), result="none", more=(), threads=("main",)):
+    """A program whose first function is main."""
+    return Program((tuple(shared), tuple(locks),
+                    (("main", tuple(params), tuple(locals_), tuple(blocks), result, tuple(body)),) + tuple(more),
+                    tuple(threads)))
+
+
+class Maker:
+    """Makes a random program that is let."""
+
+    def __init__(self, seed):
+        self.dice = random.Random(seed)
+        d = self.dice
+        self.shared = tuple((w, d.choice(CELLS), d.randint(1, 3)) for w in ("s", "t", "u")[:d.randint(0, 3)])
+        self.locks = ("k", "l")[:d.randint(0, 2)]
+        self.heads = [self.head("main", False)]
+        for word in ("f", "g", "h")[:d.randint(0, 3)]:
+            self.heads.append(self.head(word, True))
+
+    def head(self, word, params):
+        d = self.dice
+        rows = [(w, d.choice(SORTS + ("int", "byte"))) for w in ("a", "b", "c", "d", "e")]
+        cut = d.randint(0, 2) if params else 0
+        rows[-1] = ("e", "int")
+        blocks = tuple((w, d.choice(CELLS), d.randint(1, 3)) for w in ("x", "y")[:d.choice((0, 0, 1, 2))])
+        result = d.choice(("none",) + SORTS + ("int",))
+        return (word, tuple(rows[:cut]), tuple(rows[cut:]), blocks, result)
+
+    def expression(self, head, sort, deep):
+        d = self.dice
+        found = []
+        for w, s in head[1] + head[2]:
+            if s == sort:
+                found += [lambda w=w: ("local", w)] * 3
+        for w, s, _ in self.shared:
+            if ("to", s) == sort:
+                found += [lambda w=w: ("shared", w)] * 3
+        for w, s, _ in head[3]:
+            if ("to", s) == sort:
+                found += [lambda w=w: ("block", w)] * 3
+        more = lambda s: self.expression(head, s, deep - 1)
+        if sort == "int":
+            found += [lambda: ("int", d.choice((0, 0, 1, 1, 2, 3, -1, 17, 255, 2 ** 31 - 1, -(2 ** 31))))] * 3
+            found += [lambda: ("int", d.choice((0, 1, 2, 1, 1)))] * 5
+        elif sort == "byte":
+            found.append(lambda: ("byte", d.choice((0, 1, 2, 200, 255))))
+        elif sort in (("to", s) for s in CELLS):
+            found.append(lambda: ("null", sort[1]))
+        if deep > 1:
+            if sort in CELLS:
+                found += [lambda: ("at", more(("to", sort)))] * 3
+            if isinstance(sort, tuple):
+                found += [lambda: ("on", more(sort), more("int"))] * 2
+            if sort in ("int", "byte"):
+                found += [lambda w=w: (w, more(sort), more(sort)) for w in ("sum", "less", "times", "share", "rest")]
+            if sort == "byte":
+                found.append(lambda: ("low", more("int")))
+            if sort == "int":
+                found.append(lambda: ("wide", more("byte")))
+                found.append(lambda: ("not", more("int")))
+                found += [lambda w=w: (w, more("int"), more("int")) for w in ("and", "or")]
+                found += [lambda w=w: (lambda s: (w, more(s), more(s)))(d.choice(SORTS)) for w in ("same", "below")]
+                found.append(lambda: (lambda s: ("gap", more(s), more(s)))(d.choice(SORTS[2:])))
+        if not found:
+            return None
+        return d.choice(found)()
+
+    def whole(self, thing):
+        """Whether no part is None."""
+        if isinstance(thing, tuple):
+            return all(self.whole(part) for part in thing)
+        return thing is not None
+
+    def statement(self, head, deep):
+        while True:
+            made = self.try_statement(head, deep)
+            if made is not None and self.whole(made):
+                return made
+
+    def try_statement(self, head, deep):
+        d = self.dice
+        rows = head[1] + head[2]
+        word = d.choice(("let", "let", "let", "let", "store", "store", "make", "make", "away", "ask", "give", "give",
+                         "if", "if", "while", "call", "call", "return", "take", "leave"))
+        expr = lambda sort, n=4: self.expression(head, sort, d.randint(1, n))
+        if word == "let":
+            w, s = d.choice(rows)
+            return ("let", w, expr(s))
+        if word == "store":
+            s = d.choice(CELLS)
+            return ("store", expr(("to", s)), expr(s))
+        if word == "make":
+            pointers = [(w, s) for w, s in rows if isinstance(s, tuple)]
+            if not pointers:
+                return None
+            w, s = d.choice(pointers)
+            return ("make", w, s[1], d.choice((("int", d.choice((1, 2, 3, 3, 4, 0, 17))), expr("int", 2))))
+        if word == "away":
+            pointers = [w for w, s in rows if isinstance(s, tuple)]
+            if pointers and d.random() < 0.8:
+                return ("away", ("local", d.choice(pointers)))
+            return ("away", expr(d.choice(SORTS[2:])))
+        if word == "ask":
+            w, s = d.choice(rows)
+            return ("ask", w, d.choice((0, -5)), d.choice((3, 9, 0))) if s == "int" else None
+        if word == "give":
+            return ("give", expr("int"))
+        if word == "if" and deep < 3:
+            return ("if", expr("int"), self.body(head, deep + 1), self.body(head, deep + 1))
+        if word == "while" and deep < 3:
+            return ("while", expr("int"), self.body(head, deep + 1))
+        if word == "call":
+            other = d.choice(self.heads)
+            targets = [w for w, s in rows if s == other[4]] + [""]
+            return ("call", d.choice(targets), other[0], tuple(expr(s) for _, s in other[1]))
+        if word == "return" and d.random() < 0.4:
+            return ("return",) if head[4] == "none" else ("return", expr(head[4]))
+        if word in ("take", "leave") and self.locks:
+            return (word, d.choice(self.locks))
+        return None
+
+    def body(self, head, deep):
+        many = self.dice.randint(3, 9) if deep == 1 else self.dice.randint(0, 3)
+        return tuple(self.statement(head, deep) for _ in range(many))
+
+    def prelude(self, head):
+        """Sets most locals and cells, so that not all goes wrong at once."""
+        d = self.dice
+        found = []
+        for w, s, many in head[3]:
+            for spot in range(many):
+                found.append(("store", ("on", ("block", w), ("int", spot)), self.plain(s)))
+        for w, s in head[2]:
+            if d.random() < 0.04:
+                continue
+            if not isinstance(s, tuple):
+                found.append(("let", w, self.plain(s)))
+            elif d.random() < 0.15:
+                found.append(("let", w, ("null", s[1])))
+            else:
+                blocks = [("shared", x) for x, y, _ in self.shared if y == s[1]]
+                blocks += [("block", x) for x, y, _ in head[3] if y == s[1]]
+                if blocks and d.random() < 0.7:
+                    found.append(("let", w, d.choice(blocks)))
+                else:
+                    found.append(("make", w, s[1], ("int", 3)))
+                    found.append(("store", ("local", w), self.plain(s[1])))
+                    found.append(("store", ("on", ("local", w), ("int", 1)), self.plain(s[1])))
+        return found
+
+    def plain(self, sort):
+        if isinstance(sort, tuple):
+            blocks = [("shared", x) for x, y, _ in self.shared if y == sort[1]]
+            return self.dice.choice(blocks + [("null", sort[1])])
+        return (sort, self.dice.choice((0, 1, 2)))
+
+    def program(self):
+        functions = []
+        for head in self.heads:
+            body = tuple(self.prelude(head)) + self.body(head, 1)
+            functions.append(head + (body,))
+        free = [head[0] for head in self.heads if head[1] == ()]
+        threads = tuple(self.dice.choice(free) for _ in range(self.dice.choice((1, 2, 2, 3))))
+        return Program((self.shared, self.locks, tuple(functions), threads))
+
+
+def programs(many, first=0):
+    """So many random programs."""
+    return [Maker(seed).program() for seed in range(first, first + many)]
+
+
+def inputs_of(seed, many=12):
+    dice = random.Random(seed)
+    return [dice.choice((0, 1, 2, 3, 0, -3, 5)) for _ in range(many)]
+
+
+def weaving_of(moment, inputs, many, seed):
+    """A weaving that can be done from the moment, of at most so many steps."""
+    dice = random.Random(seed)
+    found = []
+    for _ in range(many):
+        threads = list(range(len(moment.stacks)))
+        dice.shuffle(threads)
+        for thread in threads:
+            if not can_step(moment, thread):
+                continue
+            try:
+                moment = stepped(moment, thread, inputs)[0]
+            except WrongError:
+                continue
+            found.append(thread)
+            break
+        else:
+            break
+    return found
+
+
+def runs(many, steps=40, first=0):
+    """Triples (program, inputs, weaving) of random runs."""
+    found = []
+    for seed in range(first, first + many):
+        made = Maker(seed).program()
+        inputs = inputs_of(seed)
+        found.append((made, inputs, weaving_of(begun(made), inputs, steps, seed)))
+    return found

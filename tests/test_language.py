@@ -1,0 +1,210 @@
+"""The rules of the language that a look at the files can judge."""
+
+import ast
+import os
+import re
+import unittest
+
+HERE = os.path.dirname(os.path.abspath(__file__))
+PACKAGE = os.path.join(os.path.dirname(HERE), "firstwrong")
+NAMES = sorted(name for name in os.listdir(PACKAGE) if name != "__pycache__")
+
+BUILTINS = set("""len range enumerate zip min max sum abs sorted reversed int str bool bytes list tuple dict set
+frozenset isinstance ord repr any all divmod pow getattr hasattr setattr Exception ValueError TypeError KeyError
+IndexError LookupError ZeroDivisionError ArithmeticError OverflowError RuntimeError NotImplementedError
+AttributeError StopIteration NotImplemented iter next map""".split())
+METHODS = set("""append clear copy count endswith extend find get index insert isalnum isalpha isdigit islower
+isspace isupper items join keys ljust lower lstrip partition pop remove replace reverse rfind rjust rpartition
+rsplit rstrip setdefault split splitlines startswith strip update upper values zfill bit_length sort add discard
+title capitalize swapcase casefold center expandtabs removeprefix removesuffix rindex isascii isdecimal isnumeric
+istitle isidentifier isprintable""".split())
+NOWHERE = set("register mro elements open input law version_info with_traceback add_note".split())
+WORDS = set("""type typing typing_extensions enum Enum IntEnum StrEnum Flag IntFlag Generic Protocol ABC ABCMeta
+namedtuple NamedTuple TypedDict TYPE_CHECKING abstractmethod""".split())
+ALL_BUILTINS = set(dir(__builtins__)) if not isinstance(__builtins__, dict) else set(__builtins__)
+STATEMENTS = (ast.Assign, ast.AugAssign, ast.AnnAssign, ast.If, ast.While, ast.For, ast.Return, ast.Break,
+              ast.Continue, ast.Pass, ast.Raise, ast.Assert, ast.Delete, ast.Try, ast.Expr, ast.FunctionDef,
+              ast.ClassDef, ast.ImportFrom)
+
+
+def read(name):
+    with open(os.path.join(PACKAGE, name), encoding="utf-8", newline="") as file:
+        return file.read()
+
+
+def functions(tree):
+    return [node for node in ast.walk(tree) if isinstance(node, ast.FunctionDef)]
+
+
+def bound(node):
+    """The names that a function binds."""
+    found = {arg.arg for arg in node.args.args + node.args.kwonlyargs}
+    for part in ast.walk(node):
+        if isinstance(part, ast.Name) and isinstance(part.ctx, ast.Store):
+            found.add(part.id)
+        if isinstance(part, (ast.FunctionDef,)) and part is not node:
+            found.add(part.name)
+        if isinstance(part, ast.Lambda):
+            found |= {arg.arg for arg in part.args.args}
+        if isinstance(part, ast.ExceptHandler) and part.name:
+            found.add(part.name)
+    return found
+
+
+class Language(unittest.TestCase):
+    def each(self):
+        for name in NAMES:
+            self.where = name
+            text = read(name)
+            yield name, text, ast.parse(text)
+
+    def _formatMessage(self, msg, standardMsg):
+        return f"{getattr(self, 'where', '')}: {super()._formatMessage(msg, standardMsg)}"
+
+    def test_files(self):
+        self.assertLessEqual(len(NAMES), 100)
+        for name in NAMES:
+            self.assertRegex(name, r"^[a-z0-9_]+\.py$")
+            self.assertFalse(name.startswith(("law_", "test")))
+
+    def test_sizes_and_characters(self):
+        for name, text, tree in self.each():
+            lines = text.split("\n")
+            self.assertLessEqual(len(lines) - 1, 399)
+            self.assertTrue(all(len(line) <= 120 for line in lines))
+            self.assertTrue(all(c == "\n" or " " <= c <= "~" for c in text))
+            for node in functions(tree):
+                self.assertLessEqual(node.end_lineno - node.lineno + 1, 40, node.name)
+
+    def test_imports(self):
+        graph = {}
+        for name, text, tree in self.each():
+            graph[name[:-3]] = []
+            for node in ast.walk(tree):
+                self.assertNotIsInstance(node, ast.Import)
+                if isinstance(node, ast.ImportFrom):
+                    self.assertIn(node, tree.body)
+                    self.assertEqual(node.level, 0)
+                    package, _, module = node.module.partition(".")
+                    self.assertEqual(package, "firstwrong")
+                    graph[name[:-3]].append(module)
+                    defined = {n.name for n in ast.parse(read(module + ".py")).body
+                               if isinstance(n, (ast.FunctionDef, ast.ClassDef))}
+                    defined |= {t.id for n in ast.parse(read(module + ".py")).body if isinstance(n, ast.Assign)
+                                for t in n.targets}
+                    used = {n.id for n in ast.walk(tree) if isinstance(n, ast.Name)}
+                    for alias in node.names:
+                        self.assertIsNone(alias.asname)
+                        self.assertIn(alias.name, defined)
+                        self.assertIn(alias.name, used, "imported but not used")
+        done = []
+
+        def visit(module, way):
+            self.assertNotIn(module, way)
+            if module not in done:
+                for other in graph[module]:
+                    visit(other, way + [module])
+                done.append(module)
+
+        for module in graph:
+            visit(module, [])
+
+    def test_module_level(self):
+        for name, text, tree in self.each():
+            seen = []
+            for node in tree.body:
+                self.assertIsInstance(node, (ast.Expr, ast.ImportFrom, ast.FunctionDef, ast.ClassDef, ast.Assign))
+                if isinstance(node, ast.Expr):
+                    self.assertIsInstance(node.value, ast.Constant)
+                elif isinstance(node, ast.ImportFrom):
+                    seen += [alias.name for alias in node.names]
+                elif isinstance(node, ast.Assign):
+                    self.assertEqual(len(node.targets), 1)
+                    seen.append(node.targets[0].id)
+                    self.assertFalse([n for n in ast.walk(node.value) if isinstance(n, (ast.Call, ast.ListComp))])
+                else:
+                    seen.append(node.name)
+            self.assertEqual(len(seen), len(set(seen)), "a name is bound twice")
+            self.assertFalse(set(seen) & (ALL_BUILTINS | NOWHERE))
+
+    def test_statements_and_values(self):
+        for name, text, tree in self.each():
+            for node in ast.walk(tree):
+                if isinstance(node, ast.stmt):
+                    self.assertIsInstance(node, STATEMENTS)
+                self.assertNotIsInstance(node, (ast.Div, ast.MatMult))
+                if isinstance(node, ast.Constant):
+                    self.assertNotIsInstance(node.value, (float, complex, bytes))
+                    if isinstance(node.value, str):
+                        self.assertNotIn("%", node.value)
+                if isinstance(node, ast.BinOp) and isinstance(node.op, ast.Pow):
+                    self.assertIsInstance(node.right, ast.Constant)
+                    self.assertLessEqual(node.right.value, 64)
+                if isinstance(node, ast.Compare):
+                    for op, other in zip(node.ops, node.comparators):
+                        if isinstance(op, (ast.Is, ast.IsNot)):
+                            self.assertIsInstance(other, ast.Constant)
+                if isinstance(node, (ast.FunctionDef, ast.ClassDef)):
+                    self.assertFalse(node.decorator_list)
+                    self.assertTrue(ast.get_docstring(node) or node.name in ("__init__", "__eq__"), node.name)
+
+    def test_names(self):
+        for name, text, tree in self.each():
+            top = {n.name for n in tree.body if isinstance(n, ast.ClassDef)}
+            top |= {alias.name for n in tree.body if isinstance(n, ast.ImportFrom) for alias in n.names}
+            used = {n.name for n in tree.body if isinstance(n, ast.FunctionDef)} | top
+            for node in functions(tree):
+                self.assertFalse(bound(node) & (ALL_BUILTINS | NOWHERE), node.name)
+                self.assertFalse(bound(node) & top, node.name)
+            for node in ast.walk(tree):
+                if isinstance(node, ast.Name) and node.id in ALL_BUILTINS and node.id not in used:
+                    self.assertIn(node.id, BUILTINS)
+                if isinstance(node, ast.Attribute):
+                    self.assertNotIn(node.attr, NOWHERE)
+                    self.assertFalse(node.attr.startswith("__") and node.attr != "__init__")
+                if isinstance(node, ast.keyword) and node.arg:
+                    self.assertNotIn(node.arg, NOWHERE)
+            strings = re.sub(r'"""[\s\S]*?"""', "", text)
+            strings = re.sub(r"#.*", "", strings)
+            self.assertFalse(set(re.findall(r"\w+", strings)) & WORDS)
+
+    def test_methods_of_values(self):
+        own = set()
+        for name in NAMES:
+            for node in ast.walk(ast.parse(read(name))):
+                if isinstance(node, ast.ClassDef):
+                    own |= {n.name for n in node.body if isinstance(n, ast.FunctionDef)}
+        for name, text, tree in self.each():
+            for node in ast.walk(tree):
+                if isinstance(node, ast.Call) and isinstance(node.func, ast.Attribute):
+                    self.assertIn(node.func.attr, METHODS | own)
+                    self.assertNotIn(node.func.attr, ("encode", "decode", "to_bytes", "fromhex"))
+                if isinstance(node, ast.Call) and isinstance(node.func, ast.Name):
+                    self.assertNotIn(node.func.id, ("bytes", "frozenset"))
+
+    def test_truths_take_lists(self):
+        """Since classes have an __eq__, any, all and the like take no generator expression."""
+        for name, text, tree in self.each():
+            for node in ast.walk(tree):
+                self.assertNotIsInstance(node, ast.GeneratorExp)
+
+
+INTERFACE = """errors: WrongError BadBytes BadCell BadChart BadCheck BadChoices BadCode BadCondition BadDeed BadDisk
+BadEdit BadEntry BadFilm BadFlat BadInputs BadLayout BadLedger BadLine BadLog BadLook BadMoment BadNames BadNumber
+BadPast BadPlan BadSession BadSight BadStep BadStop BadStory BadTerm BadText BadTraces BadTree BadWeaving Lost NotNow
+OldPen TooMany; rows: four_bytes mark_of; values: is_sort is_value; trees: is_tree Program tree_of pieces nodes;
+moments: Moment begun; steps: can_step stepped undone run first_wrong is_clean; alikes: met least_alike are_alike
+kinds_of; codes: Code code_of instruction_of checks_of without full; codebytes: code_bytes code_of_bytes"""
+
+
+class Interface(unittest.TestCase):
+    def test_defined_where_listed(self):
+        for part in INTERFACE.split(";"):
+            module, names = part.split(":")
+            tree = ast.parse(read(module.strip() + ".py"))
+            defined = {n.name for n in tree.body if isinstance(n, (ast.FunctionDef, ast.ClassDef))}
+            self.assertEqual(set(names.split()) - defined, set(), module)
+
+
+if __name__ == "__main__":
+    unittest.main()
