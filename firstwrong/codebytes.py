@@ -1,10 +1,11 @@
 """Codes as rows of bytes."""
 
-from firstwrong.codes import Code, is_head, need_code
+from firstwrong.codes import Code, goals_of, is_head, need_code
 from firstwrong.errors import BadBytes, BadCode
 from firstwrong.kinds import is_byte_row
 from firstwrong.momentparts import WRONG_WORDS
 from firstwrong.names import Names
+from firstwrong.rowreader import RowReader
 from firstwrong.rows import low_bytes
 from firstwrong.values import CELL_SORTS
 
@@ -43,39 +44,16 @@ class Tables:
     def told(self, kind, reader):
         """What the next bytes tell."""
         if kind == "int":
-            number = reader.number(4)
-            return number - 2 ** 32 if number >= 2 ** 31 else number
+            return reader.int_told()
         if kind == "many":
-            return reader.number(2)
-        number = reader.number(1)
+            return reader.number(2, 2 ** 16 - 1)
         if kind == "byte":
-            return number
-        if kind == "local" and number == NO_LOCAL:
-            return ""
-        return reader.item(self.rows[kind], number)
-
-
-class ByteReader:
-    """Reads numbers off a row of bytes, the lowest byte first."""
-
-    def __init__(self, row):
-        self.row = row
-        self.place = 0
-
-    def number(self, many):
-        """A number of so many bytes."""
-        if self.place + many > len(self.row):
-            raise BadBytes(None)
-        number = 0
-        for at in range(many):
-            number = number | (self.row[self.place + at] << (8 * at))
-        self.place += many
-        return number
-
-    def item(self, rows, number):
-        """What the number stands for in a table."""
-        if number >= len(rows):
-            raise BadBytes(None)
+            return reader.number(1, 255)
+        rows = self.rows[kind]
+        number = reader.number(1, NO_LOCAL if kind == "local" else len(rows) - 1)
+        if kind == "local" and number >= len(rows):
+            # Code judges where there may be no local, and what is beyond.
+            return "" if number == NO_LOCAL else None
         return rows[number]
 
 
@@ -110,32 +88,30 @@ def code_of_bytes(head, thing):
     if not is_byte_row(thing):
         raise BadBytes(None)
     names = Names(head[0], head[1], head[2])
-    reader = ByteReader(thing)
-    lines = tuple([lines_read(reader, Tables(names, number)) for number in range(len(head[2]))])
-    if reader.place < len(thing):
-        raise BadBytes(None)
+    reader = RowReader(thing)
     try:
+        lines = tuple([lines_read(reader, Tables(names, number)) for number in range(len(head[2]))])
+        reader.end()
         return Code(head, lines)
-    except BadCode:
+    except (BadBytes, BadCode):
         raise BadBytes(None) from None
 
 
 def lines_read(reader, tables):
     """The lines of a function."""
-    return tuple([line_read(reader, tables) for _ in range(reader.number(2))])
+    return tuple([line_read(reader, tables) for _ in range(reader.number(2, 2 ** 16 - 1))])
 
 
 def line_read(reader, tables):
     """A line; Code judges whether it is one."""
-    ops = tuple([op_read(reader, tables) for _ in range(reader.number(2))])
+    ops = tuple([op_read(reader, tables) for _ in range(reader.number(2, 2 ** 16 - 1))])
     if ops == ():
         raise BadBytes(None)
-    word = ops[-1][0]
-    many = 2 if word == "test" else 0 if word == "return" else 1
-    return (ops, tuple([reader.number(2) for _ in range(many)]))
+    many = goals_of(ops[-1])
+    return (ops, tuple([reader.number(2, 2 ** 16 - 1) for _ in range(many)]))
 
 
 def op_read(reader, tables):
     """An op."""
-    word = reader.item(WORDS, reader.number(1))
+    word = WORDS[reader.number(1, len(WORDS) - 1)]
     return (word,) + tuple([tables.told(kind, reader) for kind in TELLS.get(word, ())])

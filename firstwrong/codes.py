@@ -11,22 +11,35 @@ from firstwrong.trees import is_tree, need_program
 MOST_LINES = 400
 
 
+class SureLines:
+    """Lines that this package made of instructions: neither they nor the head are judged again."""
+
+    def __init__(self, lines, instructions):
+        self.lines = lines
+        self.instructions = instructions
+
+
 class Code:
     """The code of a program, some checks left out."""
 
     def __init__(self, head, lines):
-        if not is_head(head):
+        sure = isinstance(lines, SureLines)
+        if not sure and not is_head(head):
             raise BadCode("head")
         self.head = head
         self.shared, self.locks, self.functions, self.threads = head
         self.names = Names(self.shared, self.locks, self.functions)
-        if not are_lines(lines, len(self.functions)):
+        # The instructions are kept: who leaves checks out or puts them back wants them.
+        if sure:
+            self.lines = lines.lines
+            self.instructions = lines.instructions
+        elif are_lines(lines, len(self.functions)):
+            self.lines = lines
+            self.instructions = tuple([self.told_by(number, rows) for number, rows in enumerate(lines)])
+        else:
             raise BadCode("lines")
-        # The instructions are kept: who steps or leaves checks out wants them.
-        self.instructions = tuple([self.judged(number, rows) for number, rows in enumerate(lines)])
-        self.lines = lines
 
-    def judged(self, number, rows):
+    def told_by(self, number, rows):
         """The instructions of a function's lines; the first that is none is told."""
         found = []
         for position, line in enumerate(rows):
@@ -85,7 +98,7 @@ def is_instruction(names, number, thing):
 
 
 def goals_of(instruction):
-    """How many goals a line of this instruction has."""
+    """How many goals a line of this instruction (or own op) has."""
     if instruction[0] == "test":
         return 2
     if instruction[0] == "return":
@@ -114,24 +127,34 @@ def code_of(program):
     """The code of a program, with all checks."""
     need_program(program)
     heads = tuple([function[:5] for function in program.functions])
-    lines = tuple([lines_of(program, number) for number in range(len(heads))])
-    return Code((program.shared, program.locks, heads, program.threads), lines)
+    lines = []
+    instructions = []
+    for number, todos in enumerate(program.todos):
+        kept = [todo for todo in todos if todo != ()]
+        told = tuple([first_instruction(todo) for todo in kept])
+        instructions.append(told)
+        lines.append(tuple([(full_ops(program.names, number, instruction), goals_behind(todo, kept))
+                            for instruction, todo in zip(told, kept)]))
+    head = (program.shared, program.locks, heads, program.threads)
+    return Code(head, SureLines(tuple(lines), tuple(instructions)))
 
 
-def lines_of(program, number):
-    """A line for each todo of a function but ()."""
-    todos = [todo for todo in program.todos[number] if todo != ()]
-    return tuple([line_of(program.names, number, todo, todos) for todo in todos])
-
-
-def line_of(names, number, todo, todos):
-    """The line of a todo; the end stands for ()."""
+def first_instruction(todo):
+    """The first statement of a todo, as an instruction."""
     first = todo[0]
     if first[0] in ("if", "while"):
-        first = ("test", first[1])
-    goals = [todos.index(goal) if goal != () else len(todos) for goal in behind(todo)]
-    ops = instruction_ops(names, number, first)
-    return (tuple(ops), tuple(goals))
+        return ("test", first[1])
+    return first
+
+
+def goals_behind(todo, todos):
+    """The positions of the todos behind one; the end stands for ()."""
+    return tuple([todos.index(goal) if goal != () else len(todos) for goal in behind(todo)])
+
+
+def full_ops(names, number, instruction):
+    """The ops of an instruction with all checks, as a line has them."""
+    return tuple(instruction_ops(names, number, instruction))
 
 
 def instruction_of(code, function, position):
@@ -168,7 +191,7 @@ def without(code, some):
         lines.append(tuple([
             (kept_ops(ops, [(number, position, spot) not in left_out for spot in range(len(ops))]), goals)
             for position, (ops, goals) in enumerate(rows)]))
-    return Code(code.head, tuple(lines))
+    return Code(code.head, SureLines(tuple(lines), code.instructions))
 
 
 def is_check_name(thing):
@@ -182,6 +205,6 @@ def full(code):
     lines = []
     for number, rows in enumerate(code.lines):
         told = code.instructions[number]
-        lines.append(tuple([(tuple(instruction_ops(code.names, number, instruction)), goals)
+        lines.append(tuple([(full_ops(code.names, number, instruction), goals)
                             for instruction, (_, goals) in zip(told, rows)]))
-    return Code(code.head, tuple(lines))
+    return Code(code.head, SureLines(tuple(lines), code.instructions))

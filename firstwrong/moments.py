@@ -3,7 +3,7 @@
 from firstwrong.errors import BadMoment
 from firstwrong.kinds import is_same
 from firstwrong.momentparts import MomentJudge, Sure, ascending
-from firstwrong.starts import first_parts
+from firstwrong.starts import first_parts, starts_of
 from firstwrong.trees import need_program
 
 
@@ -49,6 +49,5 @@ def need_moment(moment):
 def begun(program):
     """The first moment of each run of a program."""
     need_program(program)
-    starts = [program.functions[program.names.functions[word]][5] for word in program.threads]
-    lives, memory, held, stacks = first_parts(program, starts)
+    lives, memory, held, stacks = first_parts(program, starts_of(program))
     return Moment(program, Sure(lives), memory, held, stacks, 0, (), None)

@@ -4,6 +4,11 @@ from firstwrong.momentparts import SLOTS
 from firstwrong.values import nought
 
 
+def starts_of(program):
+    """For each thread the body of its function."""
+    return [program.functions[program.names.functions[word]][5] for word in program.threads]
+
+
 def first_parts(whole, starts):
     """lives, memory, held and stacks of the first moment of a program or code.
 

@@ -224,3 +224,88 @@ def runs(many, steps=40, first=0):
         inputs = inputs_of(seed)
         found.append((made, inputs, weaving_of(begun(made), inputs, steps, seed)))
     return found
+
+
+def spill():
+    """The program of spill_text, by hand."""
+    x, t, row = L("spot"), L("times"), L("row")
+    body = (("ask", "times", 0, 9), ("make", "row", "int", I(4)), ("let", "spot", I(0)),
+            ("while", ("below", x, t), (("store", ("on", row, x), x), ("let", "spot", ("sum", x, I(1))))),
+            ("give", ("at", ("on", row, I(3)))), ("away", row), ("ask", "times", 0, 1),
+            ("if", t, (("give", ("at", row)),), ()))
+    return program(body, (("spot", "int"), ("times", "int"), ("row", ("to", "int"))))
+
+
+def tally():
+    """The program of tally_text, by hand."""
+    cell, had, turn = ("shared", "sum"), L("had"), L("turn")
+    body = (("let", "turn", I(0)),
+            ("while", ("below", turn, I(3)), (
+                ("take", "door"), ("let", "had", ("at", cell)), ("store", cell, ("sum", had, I(1))), ("leave", "door"),
+                ("let", "turn", ("sum", turn, I(1))))), ("give", ("at", cell)))
+    return program(body, (("had", "int"), ("turn", "int")), (("sum", "int", 1),), ("door",), threads=("main", "main"))
+
+
+def sorter():
+    """The program of sorter_text, by hand."""
+    spot, here, many, value, row = (L(w) for w in ("spot", "here", "many", "value", "row"))
+    at = lambda e: ("at", ("on", row, e))
+    body = (("ask", "many", 1, 16), ("make", "row", "int", many), ("let", "spot", I(0)),
+            ("while", ("below", spot, many), (
+                ("ask", "value", -(2 ** 31), 2 ** 31 - 1), ("let", "here", spot),
+                ("while", ("and", ("below", I(0), here), ("below", value, at(("less", here, I(1))))), (
+                    ("store", ("on", row, here), at(("less", here, I(1)))), ("let", "here", ("less", here, I(1))))),
+                ("store", ("on", row, here), value), ("let", "spot", ("sum", spot, I(1))))),
+            ("let", "spot", I(0)),
+            ("while", ("below", spot, many), (("give", at(spot)), ("let", "spot", ("sum", spot, I(1))))),
+            ("away", row))
+    return program(body, tuple((w, "int") for w in ("spot", "here", "many", "value")) + (("row", ("to", "int")),))
+
+
+def read_of(expression, local, sort, *setting):
+    """A program whose last statement works out an expression by which it may go wrong."""
+    return program(setting + (("let", local, expression),),
+                   (("x", "int"), ("y", "int"), ("b", "byte"), ("p", ("to", "int")), ("q", ("to", "byte"))),
+                   (("s", "int", 2),), ("k",), (("m", "byte", 2),))
+
+
+def by_words():
+    """For each wrong word that can come in a run, programs of one thread that go wrong so."""
+    p, x = L("p"), L("x")
+    shared, block = ("shared", "s"), ("block", "m")
+    make, away = ("make", "p", "int", I(1)), ("away", p)
+    deep = program((("call", "", "main", ()),))
+    wide = Program(((), (), (("main", (), (), (), "none", (("call", "", "f", ()),)),
+                             ("f", (), (), (("u", "int", 1), ("v", "int", 2), ("w", "byte", 1)), "none",
+                              (("call", "", "f", ()),))), ("main",)))
+    over = ("on", shared, I(2))
+    return {
+        "unset": [read_of(("sum", I(1), x), "y", "int"), read_of(("at", block), "b", "byte"),
+                  read_of(("at", p), "x", "int", make), read_of(L("y"), "x", "int")],
+        "null": [read_of(("at", ("null", "int")), "x", "int"), read_of(("gap", shared, ("null", "int")), "x", "int"),
+                 read_of(("on", ("null", "int"), I(1)), "p", "int"), read_of(I(0), "x", "int", ("store", ("null", "int"), I(1)))],
+        "gone": [read_of(("at", p), "x", "int", make, away), read_of(("same", p, p), "x", "int", make, away),
+                 read_of(("on", p, I(0)), "p", "int", make, away), read_of(I(0), "x", "int", make, away, away),
+                 read_of(I(0), "x", "int", make, away, ("store", p, I(3)))],
+        "beyond": [read_of(("at", over), "x", "int"), read_of(("on", over, I(1)), "p", "int"),
+                   read_of(I(0), "x", "int", ("store", over, I(1))), read_of(("on", shared, I(-1)), "p", "int")],
+        "unlike": [read_of(("below", p, shared), "x", "int", make), read_of(("gap", p, shared), "x", "int", make)],
+        "great": [read_of(("times", I(65536), I(65536)), "x", "int"), read_of(I(0), "x", "int", ("make", "p", "int", I(17)))],
+        "share": [read_of(("share", I(1), I(0)), "x", "int"), read_of(("rest", ("byte", 1), ("byte", 0)), "b", "byte")],
+        "away": [read_of(I(0), "x", "int", ("away", shared)), read_of(I(0), "x", "int", ("away", block)),
+                 read_of(I(0), "x", "int", make, ("away", ("on", p, I(1))))],
+        "deep": [deep, wide],
+        "lock": [read_of(I(0), "x", "int", ("leave", "k")), read_of(I(0), "x", "int", ("take", "k"), ("take", "k"))],
+    }
+
+
+def all_runs(many, steps=40, first=0):
+    """Runs of random programs, of the examples, and of a program for each wrong word."""
+    found = runs(many, steps, first)
+    for made, inputs in ((spill(), [3]), (spill(), [5]), (spill(), [4, 1]), (spill(), [4, 0]), (tally(), []), (tally(), []),
+                         (sorter(), [3, 5, -1, 5])):
+        found.append((made, inputs, weaving_of(begun(made), inputs, 80, len(found))))
+    for rows in by_words().values():
+        for made in rows:
+            found.append((made, [], weaving_of(begun(made), [], 40, 0)))
+    return found

@@ -85,6 +85,9 @@ class Language(unittest.TestCase):
                 if isinstance(node, ast.ImportFrom):
                     self.assertIn(node, tree.body)
                     self.assertEqual(node.level, 0)
+                    if node.module == "math":
+                        self.assertTrue(all(alias.name == "comb" for alias in node.names))
+                        continue
                     package, _, module = node.module.partition(".")
                     self.assertEqual(package, "firstwrong")
                     graph[name[:-3]].append(module)
@@ -194,7 +197,11 @@ BadEdit BadEntry BadFilm BadFlat BadInputs BadLayout BadLedger BadLine BadLog Ba
 BadPast BadPlan BadSession BadSight BadStep BadStop BadStory BadTerm BadText BadTraces BadTree BadWeaving Lost NotNow
 OldPen TooMany; rows: four_bytes mark_of; values: is_sort is_value; trees: is_tree Program tree_of pieces nodes;
 moments: Moment begun; steps: can_step stepped undone run first_wrong is_clean; alikes: met least_alike are_alike
-kinds_of; codes: Code code_of instruction_of checks_of without full; codebytes: code_bytes code_of_bytes"""
+kinds_of; codes: Code code_of instruction_of checks_of without full; codebytes: code_bytes code_of_bytes;
+codemoments: CodeMoment code_begun to_code to_tree; codesteps: code_can_step code_stepped code_run; disks: Disk;
+examples: tally_text sorter_text spill_text; layouts: is_layout least_base; flats: flat_begun moment_told address_of
+taken_by; flatsteps: flat_step flat_run flat_first_wrong; bares: bare_run told_apart; momentbytes: moment_bytes
+moment_of_bytes; plans: farthest repeats fewest_steps is_plan times_done back_plan"""
 
 
 class Interface(unittest.TestCase):
