@@ -3,38 +3,25 @@
 from firstwrong.codes import code_of, full, need_code
 from firstwrong.errors import BadCode, BadMoment
 from firstwrong.kinds import is_number_in
-from firstwrong.momentparts import MomentJudge, Sure, ascending
+from firstwrong.momentparts import MomentJudge, Parts, Sure
 from firstwrong.moments import Moment, need_moment
 from firstwrong.starts import first_parts
 from firstwrong.trees import need_program
 
 
-class CodeMoment:
+class CodeMoment(Parts):
     """A moment of a run of a code."""
 
     def __init__(self, code, lives, memory, held, stacks, asked, given, wrong):
         need_code(code)
-        if isinstance(lives, Sure):
-            lives = lives.lives
-        else:
-            judge = MomentJudge(code, is_position)
-            judge.judge(lives, memory, held, stacks, asked, given, wrong)
+        judge = MomentJudge(code, is_position)
+        Parts.__init__(self, judge, lives, memory, held, stacks, asked, given, wrong)
         self.code = code
-        self.lives = tuple(lives)
-        self.memory = ascending(memory)
-        self.held = held
-        self.stacks = stacks
-        self.asked = asked
-        self.given = given
-        self.wrong = wrong
 
     def __eq__(self, other):
         if not isinstance(other, CodeMoment):
             return False
-        if self.code != other.code or self.lives != other.lives or self.memory != other.memory:
-            return False
-        return (self.held == other.held and self.stacks == other.stacks and self.asked == other.asked
-                and self.given == other.given and self.wrong == other.wrong)
+        return self.code == other.code and self.is_like(other)
 
 
 def is_position(code, function, thing):

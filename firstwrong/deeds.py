@@ -81,7 +81,8 @@ def do_give(doing, op, parts):
 
 
 def do_test(doing, op, parts):
-    """Where it goes on is all that a test does."""
+    """Where it goes on is all that a test does, and that is done already."""
+    return
 
 
 def start_of(head):

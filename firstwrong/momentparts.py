@@ -160,6 +160,25 @@ def are_names(lives, memory, names, blocks):
     return True
 
 
-def ascending(memory):
-    """A dict with the slots in their sequence, of its own."""
-    return {slot: memory[slot] for slot in sorted(memory)}
+class Parts:
+    """What moments and code moments have in common."""
+
+    def __init__(self, judge, lives, memory, held, stacks, asked, given, wrong):
+        if isinstance(lives, Sure):
+            lives = lives.lives
+        else:
+            judge.judge(lives, memory, held, stacks, asked, given, wrong)
+        self.lives = tuple(lives)
+        self.memory = {slot: memory[slot] for slot in sorted(memory)}
+        self.held = held
+        self.stacks = stacks
+        self.asked = asked
+        self.given = given
+        self.wrong = wrong
+
+    def is_like(self, other):
+        """Whether all these are equal."""
+        if self.lives != other.lives or self.memory != other.memory or self.held != other.held:
+            return False
+        return (self.stacks == other.stacks and self.asked == other.asked and self.given == other.given
+                and self.wrong == other.wrong)

@@ -2,37 +2,24 @@
 
 from firstwrong.errors import BadMoment
 from firstwrong.kinds import is_same
-from firstwrong.momentparts import MomentJudge, Sure, ascending
+from firstwrong.momentparts import MomentJudge, Parts, Sure
 from firstwrong.starts import first_parts, starts_of
 from firstwrong.trees import need_program
 
 
-class Moment:
+class Moment(Parts):
     """A moment of a run of a program."""
 
     def __init__(self, program, lives, memory, held, stacks, asked, given, wrong):
         need_program(program)
-        if isinstance(lives, Sure):
-            lives = lives.lives
-        else:
-            judge = MomentJudge(program, is_todo)
-            judge.judge(lives, memory, held, stacks, asked, given, wrong)
+        judge = MomentJudge(program, is_todo)
+        Parts.__init__(self, judge, lives, memory, held, stacks, asked, given, wrong)
         self.program = program
-        self.lives = tuple(lives)
-        self.memory = ascending(memory)
-        self.held = held
-        self.stacks = stacks
-        self.asked = asked
-        self.given = given
-        self.wrong = wrong
 
     def __eq__(self, other):
         if not isinstance(other, Moment):
             return False
-        if self.program != other.program or self.lives != other.lives or self.memory != other.memory:
-            return False
-        return (self.held == other.held and self.stacks == other.stacks and self.asked == other.asked
-                and self.given == other.given and self.wrong == other.wrong)
+        return self.program == other.program and self.is_like(other)
 
 
 def is_todo(program, function, thing):

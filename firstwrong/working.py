@@ -185,7 +185,7 @@ def divisor(parts):
     """The second part, which must not be 0."""
     if parts[1][1] == 0:
         raise GoneWrong("share")
-    return int(parts[1][1])
+    return parts[1][1]
 
 
 def do_share(doing, parts):

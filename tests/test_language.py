@@ -1,6 +1,8 @@
 """The rules of the language that a look at the files can judge."""
 
 import ast
+import importlib
+import inspect
 import os
 import re
 import unittest
@@ -211,6 +213,44 @@ class Interface(unittest.TestCase):
             tree = ast.parse(read(module.strip() + ".py"))
             defined = {n.name for n in tree.body if isinstance(n, (ast.FunctionDef, ast.ClassDef))}
             self.assertEqual(set(names.split()) - defined, set(), module)
+
+
+SIGNATURES = """values.is_sort thing; values.is_value sort thing; rows.four_bytes number; rows.mark_of thing;
+trees.is_tree thing; trees.Program tree; trees.tree_of program; trees.pieces program function;
+trees.nodes program function; moments.Moment program lives memory held stacks asked given wrong; moments.begun program;
+steps.can_step moment thread; steps.stepped moment thread inputs; steps.undone moment back;
+steps.run moment inputs weaving; steps.first_wrong moment inputs weaving; steps.is_clean moment inputs weaving;
+alikes.met start inputs weaving; alikes.least_alike start inputs weaving; alikes.are_alike start inputs one other;
+alikes.kinds_of start inputs many; codes.Code head lines; codes.code_of program;
+codes.instruction_of code function position; codes.checks_of code; codes.without code some; codes.full code;
+codebytes.code_bytes code; codebytes.code_of_bytes head thing;
+codemoments.CodeMoment code lives memory held stacks asked given wrong; codemoments.code_begun code;
+codemoments.to_code moment; codemoments.to_tree program moment; codesteps.code_can_step moment thread;
+codesteps.code_stepped moment thread inputs; codesteps.code_run moment inputs weaving; disks.Disk sure late;
+layouts.is_layout thing; layouts.least_base taken many hint; flats.flat_begun program layout; flats.moment_told flat;
+flats.address_of flat pointer; flats.taken_by flat; flatsteps.flat_step flat thread inputs;
+flatsteps.flat_run program layout inputs weaving; flatsteps.flat_first_wrong program layout inputs weaving;
+bares.bare_run program layout inputs weaving; bares.told_apart program inputs weaving one other;
+momentbytes.moment_bytes moment; momentbytes.moment_of_bytes program thing; plans.farthest pictures times;
+plans.repeats steps pictures; plans.fewest_steps steps pictures; plans.is_plan steps pictures thing;
+plans.times_done steps pictures plan; plans.back_plan steps pictures; examples.tally_text; examples.sorter_text;
+examples.spill_text"""
+
+
+class Signatures(unittest.TestCase):
+    def test_parameters_by_their_names(self):
+        for row in SIGNATURES.split(";"):
+            path, *names = row.split()
+            module, name = path.split(".")
+            found = getattr(importlib.import_module("firstwrong." + module), name)
+            self.assertEqual(list(inspect.signature(found).parameters), names, path)
+
+    def test_methods_of_a_disk(self):
+        disk = importlib.import_module("firstwrong.disks").Disk
+        for name, names in (("take_pen", []), ("write", ["life", "thing"]), ("make_sure", ["life"]), ("cut", ["life", "many"]),
+                            ("fall", ["kept"]), ("found", []), ("twin", [])):
+            self.assertIn(name, vars(disk))
+            self.assertEqual(list(inspect.signature(getattr(disk, name)).parameters), ["self"] + names)
 
 
 if __name__ == "__main__":
