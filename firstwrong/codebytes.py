@@ -44,13 +44,13 @@ class Tables:
     def told(self, kind, reader):
         """What the next bytes tell."""
         if kind == "int":
-            return reader.int_told()
+            return reader.read_int()
         if kind == "many":
-            return reader.number(2, 2 ** 16 - 1)
+            return reader.read_number(2, 2 ** 16 - 1)
         if kind == "byte":
-            return reader.number(1, 255)
+            return reader.read_number(1, 255)
         rows = self.rows[kind]
-        number = reader.number(1, NO_LOCAL if kind == "local" else len(rows) - 1)
+        number = reader.read_number(1, NO_LOCAL if kind == "local" else len(rows) - 1)
         if kind == "local" and number >= len(rows):
             # Code judges where there may be no local, and what is beyond.
             return "" if number == NO_LOCAL else None
@@ -99,19 +99,19 @@ def code_of_bytes(head, thing):
 
 def lines_read(reader, tables):
     """The lines of a function."""
-    return tuple([line_read(reader, tables) for _ in range(reader.number(2, 2 ** 16 - 1))])
+    return tuple([line_read(reader, tables) for _ in range(reader.read_number(2, 2 ** 16 - 1))])
 
 
 def line_read(reader, tables):
     """A line; Code judges whether it is one."""
-    ops = tuple([op_read(reader, tables) for _ in range(reader.number(2, 2 ** 16 - 1))])
+    ops = tuple([op_read(reader, tables) for _ in range(reader.read_number(2, 2 ** 16 - 1))])
     if ops == ():
         raise BadBytes(None)
     many = goals_of(ops[-1])
-    return (ops, tuple([reader.number(2, 2 ** 16 - 1) for _ in range(many)]))
+    return (ops, tuple([reader.read_number(2, 2 ** 16 - 1) for _ in range(many)]))
 
 
 def op_read(reader, tables):
     """An op."""
-    word = WORDS[reader.number(1, len(WORDS) - 1)]
+    word = WORDS[reader.read_number(1, len(WORDS) - 1)]
     return (word,) + tuple([tables.told(kind, reader) for kind in TELLS.get(word, ())])

@@ -98,15 +98,15 @@ def moment_of_bytes(program, thing):
     if not is_byte_row(thing):
         raise BadBytes(None)
     reader = RowReader(thing)
-    lives = [reader.number(4, LAST_LIFE) for _ in range(SLOTS)]
+    lives = [reader.read_number(4, LAST_LIFE) for _ in range(SLOTS)]
     memory = {slot: block_read(program, reader, slot) for slot in range(SLOTS) if lives[slot] & 1}
     threads = len(program.threads)
-    held = [reader.number(1, threads) for _ in program.locks]
+    held = [reader.read_number(1, threads) for _ in program.locks]
     words = words_of(program)
     stacks = tuple([stack_read(program, words, reader) for _ in program.threads])
-    asked = reader.number(4, MOST)
-    given = tuple([reader.int_told() for _ in range(reader.number(4, MOST))])
-    wrong = reader.number(1, len(WRONG_WORDS) * threads)
+    asked = reader.read_number(4, MOST)
+    given = tuple([reader.read_int() for _ in range(reader.read_number(4, MOST))])
+    wrong = reader.read_number(1, len(WRONG_WORDS) * threads)
     reader.end()
     try:
         return Moment(program, lives, memory, tuple([thread - 1 if thread > 0 else None for thread in held]),
@@ -126,13 +126,13 @@ def wrong_told(number):
 def value_read(reader, sort):
     """A value of a sort."""
     if sort == "int":
-        return reader.int_told()
+        return reader.read_int()
     if sort == "byte":
-        return reader.number(1, 255)
+        return reader.read_number(1, 255)
     at = reader.place
     if at + POINTER_BYTES > len(reader.row):
         raise BadBytes(at)
-    pointer = (reader.number(1, 255), reader.number(4, MOST), reader.number(1, 255))
+    pointer = (reader.read_number(1, 255), reader.read_number(4, MOST), reader.read_number(1, 255))
     if pointer != NULL and not is_pointer(pointer):
         raise BadBytes(at)
     return pointer
@@ -140,7 +140,7 @@ def value_read(reader, sort):
 
 def place_read(reader, sort):
     """A value, or None for what is unset."""
-    if reader.number(1, 1) == 0:
+    if reader.read_number(1, 1) == 0:
         return None
     return value_read(reader, sort)
 
@@ -148,28 +148,28 @@ def place_read(reader, sort):
 def block_read(program, reader, slot):
     """The block of a slot; the first slots have the program's shared ones."""
     if slot < len(program.shared):
-        reader.number(1, 0)
+        reader.read_number(1, 0)
         _, sort, many = program.shared[slot]
         how = "shared"
     else:
-        how = HOWS[reader.number(1, 2, 1)]
-        sort = CELL_SORTS[reader.number(1, len(CELL_SORTS) - 1)]
-        many = reader.number(1, 16, 1)
+        how = HOWS[reader.read_number(1, 2, 1)]
+        sort = CELL_SORTS[reader.read_number(1, len(CELL_SORTS) - 1)]
+        many = reader.read_number(1, 16, 1)
     return (how, sort, tuple([place_read(reader, sort) for _ in range(many)]))
 
 
 def stack_read(program, words, reader):
     """The stack of a thread."""
-    return tuple([frame_read(program, words, reader) for _ in range(reader.number(1, MOST_FRAMES))])
+    return tuple([frame_read(program, words, reader) for _ in range(reader.read_number(1, MOST_FRAMES))])
 
 
 def frame_read(program, words, reader):
     """A frame."""
-    function = reader.number(1, len(program.functions) - 1)
+    function = reader.read_number(1, len(program.functions) - 1)
     todos = program.todos[function]
-    todo = todos[reader.number(2, len(todos) - 1)]
+    todo = todos[reader.read_number(2, len(todos) - 1)]
     head = program.functions[function]
     values = tuple([place_read(reader, sort) for _, sort in head[1] + head[2]])
-    names = tuple([(reader.number(1, SLOTS - 1), reader.number(4, 2 ** 30, 1)) for _ in head[3]])
-    target = reader.number(1, len(words))
+    names = tuple([(reader.read_number(1, SLOTS - 1), reader.read_number(4, 2 ** 30, 1)) for _ in head[3]])
+    target = reader.read_number(1, len(words))
     return (function, todo, values, names, words[target - 1] if target > 0 else "")

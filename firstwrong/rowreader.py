@@ -10,7 +10,7 @@ class RowReader:
         self.row = row
         self.place = 0
 
-    def number(self, many, most, least=0):
+    def read_number(self, many, most, least=0):
         """A number of so many bytes, the lowest first."""
         at = self.place
         if at + many > len(self.row):
@@ -23,9 +23,9 @@ class RowReader:
         self.place = at + many
         return found
 
-    def int_told(self):
+    def read_int(self):
         """An int of four bytes, a negative one with 2 ** 32 more."""
-        found = self.number(4, 2 ** 32 - 1)
+        found = self.read_number(4, 2 ** 32 - 1)
         return found - 2 ** 32 if found >= 2 ** 31 else found
 
     def end(self):
