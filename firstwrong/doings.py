@@ -9,7 +9,31 @@ class GoneWrong(Exception):
         self.word = word
 
 
-class Doing:
+class View:
+    """What expressions are worked out with: memory, and the frame on top of a stack.
+
+    reads has the cells that were read on the way.
+    """
+
+    def __init__(self, names, slots, stack):
+        self.names = names
+        self.slots = slots
+        self.stack = list(stack)
+        self.reads = []
+
+    def local(self, word):
+        """The sort and value of a param or local, None if it is unset."""
+        function, _, values, _, _ = self.stack[-1]
+        place, sort = self.names.locals[function][word]
+        return (sort, values[place])
+
+    def block_named(self, word):
+        """The sort of a block of the frame, and its name."""
+        place, sort = self.names.blocks[self.stack[-1][0]][word]
+        return (sort, self.stack[-1][3][place])
+
+
+class Doing(View):
     """What a step changes, and which cells it reads and writes.
 
     slots is the memory of the machine, moment has its stacks, held, asked and
@@ -17,22 +41,13 @@ class Doing:
     """
 
     def __init__(self, names, slots, moment, thread, inputs):
-        self.names = names
-        self.slots = slots
+        View.__init__(self, names, slots, moment.stacks[thread])
         self.thread = thread
         self.inputs = inputs
-        self.stack = list(moment.stacks[thread])
         self.held = list(moment.held)
         self.asked = moment.asked
         self.given = moment.given
-        self.reads = []
         self.writes = []
-
-    def local(self, word):
-        """The sort and value of a param or local, None if it is unset."""
-        function, _, values, _, _ = self.stack[-1]
-        place, sort = self.names.locals[function][word]
-        return (sort, values[place])
 
     def put(self, word, value):
         """The param or local gets the value; there is none for the word ""."""
@@ -42,11 +57,6 @@ class Doing:
         place, _ = self.names.locals[function][word]
         values = values[:place] + (value,) + values[place + 1:]
         self.stack[-1] = (function, todo, values, names, target)
-
-    def block_named(self, word):
-        """The sort of a block of the frame, and its name."""
-        place, sort = self.names.blocks[self.stack[-1][0]][word]
-        return (sort, self.stack[-1][3][place])
 
     def go_to(self, todo):
         """What the frame has to do next."""
