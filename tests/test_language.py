@@ -203,7 +203,10 @@ kinds_of; codes: Code code_of instruction_of checks_of without full; codebytes: 
 codemoments: CodeMoment code_begun to_code to_tree; codesteps: code_can_step code_stepped code_run; disks: Disk;
 examples: tally_text sorter_text spill_text; layouts: is_layout least_base; flats: flat_begun moment_told address_of
 taken_by; flatsteps: flat_step flat_run flat_first_wrong; bares: bare_run told_apart; momentbytes: moment_bytes
-moment_of_bytes; plans: farthest repeats fewest_steps is_plan times_done back_plan"""
+moment_of_bytes; plans: farthest repeats fewest_steps is_plan times_done back_plan;
+records: record_bytes records_of; renames: program_names renamed renamed_moment names_back names_between;
+shapes: shape_of is_young; sights: is_sight seen seen_at; sources: sources_of unlike_sources; chains: is_chain chain_of;
+causes: causes_of wrong_causes is_copying; roads: account_of road_of is_road; stories: is_edit edited is_story is_idle"""
 
 
 class Interface(unittest.TestCase):
@@ -234,7 +237,16 @@ bares.bare_run program layout inputs weaving; bares.told_apart program inputs we
 momentbytes.moment_bytes moment; momentbytes.moment_of_bytes program thing; plans.farthest pictures times;
 plans.repeats steps pictures; plans.fewest_steps steps pictures; plans.is_plan steps pictures thing;
 plans.times_done steps pictures plan; plans.back_plan steps pictures; examples.tally_text; examples.sorter_text;
-examples.spill_text"""
+examples.spill_text;
+records.record_bytes kind payload; records.records_of thing; renames.program_names program; renames.renamed program names;
+renames.renamed_moment program moment names; renames.names_back program names; renames.names_between program other;
+shapes.shape_of moment; shapes.is_young moment; sights.is_sight program thing; sights.seen_at moment sight;
+sources.sources_of moment inputs weaving; sources.unlike_sources moment inputs weaving other others;
+chains.is_chain moment inputs weaving other others sight thing; chains.chain_of moment inputs weaving other others sight;
+causes.causes_of moment inputs weaving sight; causes.wrong_causes moment inputs weaving; causes.is_copying program;
+roads.account_of moment inputs weaving; roads.road_of moment inputs weaving place sight;
+roads.is_road moment inputs weaving thing; stories.is_edit program thing; stories.edited moment edit;
+stories.is_story program thing; stories.is_idle moment inputs entry"""
 
 
 class Signatures(unittest.TestCase):
