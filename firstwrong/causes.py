@@ -69,11 +69,11 @@ def wrong_causes(moment, inputs, weaving):
     if view.fine:
         word = view.next_word()
         if word in ("store", "away"):
-            rows.extend([flow.shapes[pointer[0]] for pointer in pointers_of(view.parts[:1])])
+            rows.extend([flow.shapes[pointer[0]] for pointer in pointers_of(view.got[:1])])
         elif word == "call":
             rows.extend(flow.shapes)
         elif word in ("take", "leave"):
-            rows.append(flow.locks[view.statement[1]])
+            rows.append(flow.locks[view.does[1]])
     return tuple(sorted(joined(rows)))
 
 

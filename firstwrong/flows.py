@@ -58,7 +58,7 @@ class Flow:
 
     def pass_step(self, view, after):
         """What the step that a view tells does to causes; after is the moment behind it."""
-        told = [self.of_worked(view.thread, view.depth, found) for found in view.worked]
+        told = [self.of_worked(view.thread, view.depth, found) for found in view.rows]
         word = view.next_word()
         if word in PASSED:
             deed = PASSED[word]
@@ -79,13 +79,13 @@ class Flow:
 
 def pass_let(flow, view, told):
     """The local has the causes of the value."""
-    flow.locals[(view.thread, view.depth, view.statement[1])] = told[0]
+    flow.locals[(view.thread, view.depth, view.does[1])] = told[0]
 
 
 def pass_store(flow, view, told):
     """The cell has the causes of both; cells that it might have been gain the pointer's."""
     moment = view.moment
-    written = view.parts[0][1]
+    written = view.got[0][1]
     sort = moment.memory[written[0]][1]
     for cell in cells_of(moment):
         if moment.memory[cell[0]][1] == sort:
@@ -97,7 +97,7 @@ def pass_make(flow, view, told):
     """The local and the slots hang on which slots can be taken."""
     free = free_slots(view.moment.lives)
     taken = free[0] if free != [] else SLOTS - 1
-    flow.locals[(view.thread, view.depth, view.statement[1])] = flow.shapes_to(taken)
+    flow.locals[(view.thread, view.depth, view.does[1])] = flow.shapes_to(taken)
     flow.come_to_slots(view.moment)
     if free != []:
         flow.gain(taken, told[0])
@@ -112,7 +112,7 @@ def pass_away(flow, view, told):
 def pass_ask(flow, view, told):
     """The local has the input, and which one it is."""
     number = view.moment.asked
-    local = (view.thread, view.depth, view.statement[1])
+    local = (view.thread, view.depth, view.does[1])
     flow.locals[local] = joined([{("input", number): True}, flow.asked])
 
 
@@ -124,7 +124,7 @@ def pass_give(flow, view, told):
 def pass_call(flow, view, told):
     """A frame more."""
     program = view.moment.program
-    head = program.functions[program.names.functions[view.statement[2]]]
+    head = program.functions[program.names.functions[view.does[2]]]
     above = (view.thread, view.depth + 1)
     for (word, _), causes in zip(head[1], told):
         flow.locals[above + (word,)] = causes
@@ -149,7 +149,7 @@ def pass_return(flow, view, told):
 
 def pass_lock(flow, view, told):
     """Whoever takes or leaves it: the step tells it."""
-    flow.locks[view.statement[1]] = {}
+    flow.locks[view.does[1]] = {}
 
 
 PASSED = {"let": pass_let, "store": pass_store, "make": pass_make, "away": pass_away, "ask": pass_ask,

@@ -56,14 +56,14 @@ def turning(flow, view):
     """The sources on which the step's "if" or "while" hangs."""
     if view.next_word() not in ("if", "while"):
         return []
-    return list(flow.of_worked(view.thread, view.depth, view.worked[0]))
+    return list(flow.of_worked(view.thread, view.depth, view.rows[0]))
 
 
 def other_way(view, own):
     """The way that the thread does not go from its "if" or "while"."""
     function, todo, target = own[-1]
     goals = behind(todo)
-    goal = goals[1] if view.parts[0][1] != 0 else goals[0]
+    goal = goals[1] if view.got[0][1] != 0 else goals[0]
     return own[:-1] + ((function, goal, target),)
 
 
@@ -116,7 +116,7 @@ def ways_on(flow, view, way):
 def own_writes(view):
     """What the thread's own next statement may write, as may_write tells it."""
     if view.next_word() == "store":
-        return [("cell", view.parts[0][1])]
+        return [("cell", view.got[0][1])]
     return writes_of_todo(view.moment, view.frame[1], view.frame[0], view.frame[4], view.depth)
 
 

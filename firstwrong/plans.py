@@ -142,23 +142,22 @@ def back_plan(steps, pictures):
     if fewest(steps, pictures) > MOST_DONE:
         raise TooMany(MOST_DONE)
     acts = []
-    show_back(acts, steps, pictures, pictures, 0)
+    show_back(acts, steps, tuple(range(1, pictures + 1)), 0)
     return tuple(acts)
 
 
-def show_back(acts, steps, pictures, free, base):
+def show_back(acts, steps, free, base):
     """Shows so many moments and one more, from the one in hand on, backwards.
 
-    free pictures may be kept for it; the first moment, which is in hand, is
-    that of picture base.
+    free are the numbers of the pictures that may be kept for it; the first
+    moment, which is in hand, is that of picture base.
     """
     while steps > 0:
-        ahead = part_kept(steps, free)
+        ahead = part_kept(steps, len(free))
         acts.extend([("step",)] * ahead)
         if ahead < steps:
-            picture = pictures - free + 1
-            acts.append(("keep", picture))
-            show_back(acts, steps - ahead, pictures, free - 1, picture)
+            acts.append(("keep", free[0]))
+            show_back(acts, steps - ahead, free[1:], free[0])
         else:
             acts.append(("show",))
         acts.append(("take", base))

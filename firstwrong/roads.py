@@ -20,7 +20,7 @@ def account_of(moment, inputs, weaving):
 
 def deed_parts(view):
     """The parts of what goes wrong: of the deed itself if no expression does."""
-    return view.parts if view.fine else view.worked[-1][-1][1]
+    return view.got if view.fine else view.rows[-1][-1][1]
 
 
 class Teller:
@@ -41,9 +41,9 @@ class Teller:
     def told(self, view, word):
         """The account of a wrong word behind ("did", last step)."""
         if word == "unset":
-            return (("left", self.left(view)),)
+            return (("left", self.left_unset(view)),)
         if word == "lock":
-            cell = ("lock", view.statement[1])
+            cell = ("lock", view.does[1])
             return (("lock", self.last_step(lambda step: cell in self.traces[step][1])),)
         if word == "deep":
             return tuple([("called", self.began(view.thread, depth)) for depth in range(1, view.depth + 1)])
@@ -71,9 +71,9 @@ class Teller:
 
     def began(self, thread, depth):
         """The step by which the frame of this depth began."""
-        return self.last_step(lambda step: self.begins(step, thread, depth))
+        return self.last_step(lambda step: self.is_begun(step, thread, depth))
 
-    def begins(self, step, thread, depth):
+    def is_begun(self, step, thread, depth):
         """Whether a step begins the frame of this depth."""
         return self.height(step, thread) < depth <= self.height(step + 1, thread)
 
@@ -81,13 +81,13 @@ class Teller:
         """How many frames a thread's stack has at a moment."""
         return len(self.moments[place].stacks[thread])
 
-    def left(self, view):
+    def left_unset(self, view):
         """The step that left unset what is unset now: a local, or a cell."""
-        expression, parts, _ = view.worked[-1][-1]
+        expression, parts, _ = view.rows[-1][-1]
         if expression[0] == "at":
             return self.changed(pointers_of(parts)[0][:2], True)
         thread, depth, word = view.thread, view.depth, expression[1]
-        return self.last_step(lambda step: self.begins(step, thread, depth)
+        return self.last_step(lambda step: self.is_begun(step, thread, depth)
                               or self.left_target(step, thread, depth, word))
 
     def left_target(self, step, thread, depth, word):
@@ -153,13 +153,13 @@ def place_written(view, depth, word):
     """Which of a step's expressions it wrote to the local of this word and depth;
     None if it wrote another value, () if it did not write the local."""
     did = view.next_word()
-    if view.depth == depth and did in ("let", "ask", "make") and view.statement[1] == word:
+    if view.depth == depth and did in ("let", "ask", "make") and view.does[1] == word:
         return 0 if did == "let" else None
     if view.depth == depth + 1 and did == "return" and view.frame[4] == word:
-        return 0 if view.worked != [] else None
+        return 0 if view.rows != [] else None
     if view.depth == depth - 1 and did == "call":
         program = view.moment.program
-        head = program.functions[program.names.functions[view.statement[2]]]
+        head = program.functions[program.names.functions[view.does[2]]]
         words = [row[0] for row in head[1] + head[2]]
         if word in words:
             place = words.index(word)
@@ -172,7 +172,7 @@ def sight_copied(told):
     view, place = told
     if place is None:
         return None
-    expression, parts, _ = view.worked[place][-1]
+    expression, parts, _ = view.rows[place][-1]
     if expression[0] == "local":
         return ("local", view.thread, view.depth, expression[1])
     if expression[0] == "at":

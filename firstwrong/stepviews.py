@@ -61,8 +61,8 @@ def pointers_of(parts):
 class StepView:
     """What a thread does next at a moment.
 
-    worked has what is worked out of each expression of the statement (None if
-    the todo is ()), up to the one that goes wrong; parts their values, fine
+    does is the statement (None if the todo is ()), rows has what is worked out of
+    each of its expressions, up to the one that goes wrong; got their values, fine
     tells whether none does.
     """
 
@@ -73,25 +73,25 @@ class StepView:
         self.depth = len(stack)
         self.frame = stack[-1]
         todo = self.frame[1]
-        self.statement = todo[0] if todo != () else None
+        self.does = todo[0] if todo != () else None
         self.head = moment.program.functions[self.frame[0]]
-        self.worked = []
-        self.parts = []
+        self.rows = []
+        self.got = []
         self.fine = True
         view = view_of(moment, stack)
-        for expression in expressions_of(self.statement) if todo != () else ():
+        for expression in expressions_of(self.does) if todo != () else ():
             found = []
             value = work(view, found, expression)
-            self.worked.append(found)
+            self.rows.append(found)
             self.fine = value is not None
             if not self.fine:
                 break
-            self.parts.append(value)
+            self.got.append(value)
 
     def all_worked(self):
         """All that is worked out, in one list."""
-        return [row for found in self.worked for row in found]
+        return [row for found in self.rows for row in found]
 
     def next_word(self):
         """The statement's word; "return" for a todo that is ()."""
-        return "return" if self.statement is None else self.statement[0]
+        return "return" if self.does is None else self.does[0]

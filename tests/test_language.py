@@ -206,7 +206,13 @@ taken_by; flatsteps: flat_step flat_run flat_first_wrong; bares: bare_run told_a
 moment_of_bytes; plans: farthest repeats fewest_steps is_plan times_done back_plan;
 records: record_bytes records_of; renames: program_names renamed renamed_moment names_back names_between;
 shapes: shape_of is_young; sights: is_sight seen seen_at; sources: sources_of unlike_sources; chains: is_chain chain_of;
-causes: causes_of wrong_causes is_copying; roads: account_of road_of is_road; stories: is_edit edited is_story is_idle"""
+causes: causes_of wrong_causes is_copying; roads: account_of road_of is_road; stories: is_edit edited is_story is_idle;
+pasts: Past moment_at deed_at cut_past rest_past gone_on asks gives wrong_of waits; calls: depths call_of return_of over
+over_back frames_of; cells: is_cell cell_value is_look shown writes_of last_set next_set changes_of table_of;
+conditions: is_condition holds first_moment last_moment spans; searches: least_wrong story_of closed_shapes is_closed
+stuck_shapes; stops: is_stop stopping_places next_stop last_stop; thinning: kept_places first_way thin_plan;
+films: film_begun film_on film_at film_back all_back; programtexts: text_of program_of_text wrong_lines mended
+statement_lines; runlogs: read_log logged log_bytes"""
 
 
 class Interface(unittest.TestCase):
@@ -246,7 +252,24 @@ chains.is_chain moment inputs weaving other others sight thing; chains.chain_of 
 causes.causes_of moment inputs weaving sight; causes.wrong_causes moment inputs weaving; causes.is_copying program;
 roads.account_of moment inputs weaving; roads.road_of moment inputs weaving place sight;
 roads.is_road moment inputs weaving thing; stories.is_edit program thing; stories.edited moment edit;
-stories.is_story program thing; stories.is_idle moment inputs entry"""
+stories.is_story program thing; stories.is_idle moment inputs entry; pasts.Past start story each;
+pasts.moment_at past place; pasts.deed_at past place; pasts.cut_past past place; pasts.rest_past past place;
+pasts.gone_on past inputs course; pasts.asks past; pasts.gives past; pasts.wrong_of past; pasts.waits past thread;
+calls.depths past thread; calls.call_of past place thread; calls.return_of past place thread;
+calls.over past place thread; calls.over_back past place thread; calls.frames_of past thread;
+cells.is_cell program thing; cells.cell_value moment cell; cells.is_look program thing; cells.shown moment look;
+cells.writes_of past cell; cells.last_set past place cell; cells.next_set past place cell;
+cells.changes_of past look; cells.table_of past looks; conditions.is_condition program thing;
+conditions.holds moment condition; conditions.first_moment past place condition;
+conditions.last_moment past place condition; conditions.spans past condition;
+searches.least_wrong start values many; searches.story_of turns; searches.closed_shapes start values;
+searches.is_closed start values thing; searches.stuck_shapes start values; stops.is_stop program thing;
+stops.stopping_places past stop; stops.next_stop past place stop; stops.last_stop past place stop;
+thinning.kept_places steps pictures; thinning.first_way steps pictures; thinning.thin_plan steps pictures;
+films.film_begun program inputs pictures; films.film_on film thread; films.film_at film place; films.film_back film;
+films.all_back program inputs weaving pictures; programtexts.text_of program; programtexts.program_of_text text;
+programtexts.wrong_lines text; programtexts.mended text; programtexts.statement_lines text;
+runlogs.read_log program thing; runlogs.logged program thing; runlogs.log_bytes program inputs weaving"""
 
 
 class Signatures(unittest.TestCase):
