@@ -75,7 +75,9 @@ def frames_of(past, thread):
     need_thread(past.program, thread)
     heights = heights_of(past, thread)
     functions = past.program.functions
-    found = [[functions[frame[0]][0], below + 1, 0, past.length] for below, frame in enumerate(past.start.stacks[thread])]
+    found = []
+    for below, frame in enumerate(past.start.stacks[thread]):
+        found.append([functions[frame[0]][0], below + 1, 0, past.length])
     standing = list(found)
     for number in range(past.length):
         if heights[number + 1] > heights[number]:

@@ -5,7 +5,7 @@ from firstwrong.doings import GoneWrong
 from firstwrong.errors import BadCondition, BadTree
 from firstwrong.moments import need_moment
 from firstwrong.names import Names
-from firstwrong.pasts import all_moments, moment_of, need_past, need_place, rows_of
+from firstwrong.pasts import all_moments, moment_of, need_past, need_place, numbers_from, rows_of
 from firstwrong.stepviews import view_of
 from firstwrong.trees import need_program
 from firstwrong.working import worked
@@ -85,8 +85,7 @@ class Candidates:
 
     def go_further(self):
         """On to the next candidate."""
-        deeds = range(self.place, self.past.length) if self.forwards else range(self.place - 1, -1, -1)
-        for number in deeds:
+        for number in numbers_from(self.past, self.place, self.place - 1, self.forwards):
             if any([cell in self.reads for cell in self.past.did[number][5]]):
                 self.look_at(number + 1 if self.forwards else number)
                 return

@@ -118,6 +118,13 @@ def moment_of(past, place):
     return (moment, place - nearest)
 
 
+def numbers_from(past, first, last, forwards):
+    """The numbers of the deeds from the first one on, or from the last one back."""
+    if forwards:
+        return list(range(first, past.length))
+    return list(range(last, -1, -1))
+
+
 def all_moments(past):
     """The list of all moments, each deed done once more."""
     moments = [past.start]

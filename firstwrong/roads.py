@@ -15,7 +15,7 @@ def account_of(moment, inputs, weaving):
         return None
     thread, word = moments[-1].wrong
     teller = Teller(moments, traces, weaving)
-    return (("did", len(weaving) - 1),) + teller.told(StepView(moments[-2], thread), word)
+    return (("did", len(weaving) - 1),) + teller.account(StepView(moments[-2], thread), word)
 
 
 def deed_parts(view):
@@ -38,7 +38,7 @@ class Teller:
                 return step
         return None
 
-    def told(self, view, word):
+    def account(self, view, word):
         """The account of a wrong word behind ("did", last step)."""
         if word == "unset":
             return (("left", self.left_unset(view)),)

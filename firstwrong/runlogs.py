@@ -45,7 +45,7 @@ def int_of(row):
 class LogReader:
     """Takes records as long as they are a log of a run.
 
-    moments are those reached, none without a head; told how many of the given
+    moments are those reached, none without a head; spoken how many of the given
     ints were told outside.
     """
 
@@ -54,7 +54,7 @@ class LogReader:
         self.moments = []
         self.steps = []
         self.inputs = []
-        self.told = 0
+        self.spoken = 0
 
     def take_record(self, kind, payload):
         """Takes the next record; whether it fits there."""
@@ -90,9 +90,9 @@ class LogReader:
 
     def take_told(self, payload):
         """Takes what tells how many ints were told."""
-        if len(payload) != 4 or not self.told <= number_of(payload) <= len(self.moments[-1].given):
+        if len(payload) != 4 or not self.spoken <= number_of(payload) <= len(self.moments[-1].given):
             return False
-        self.told = number_of(payload)
+        self.spoken = number_of(payload)
         return True
 
 

@@ -1,6 +1,6 @@
 """All runs searched: least wrong ones, and tuples of shapes that no step leaves."""
 
-from firstwrong.errors import BadInputs, BadMoment, BadNumber, BadStory, NotNow, TooMany
+from firstwrong.errors import BadInputs, BadMoment, BadNumber, BadStory, TooMany
 from firstwrong.kinds import is_int, is_number_in, is_row, is_tuple_of
 from firstwrong.momentbytes import moment_bytes
 from firstwrong.moments import Moment, need_moment
@@ -96,7 +96,8 @@ def shapes_from(start, values):
     met.add(moment_bytes(found[0]))
     done = 0
     while done < len(found):
-        for _, after in turns_on(found[done], values):
+        turns = turns_on(found[done], values)
+        for _, after in turns:
             if after.wrong is not None:
                 return None
             shape = shape_of(after)
@@ -104,8 +105,8 @@ def shapes_from(start, values):
             if key not in met:
                 met.add(key)
                 found.append(shape)
-        if len(found) > MOST_SHAPES:
-            raise TooMany(MOST_SHAPES)
+            if len(found) > MOST_SHAPES:
+                raise TooMany(MOST_SHAPES)
         done += 1
     return tuple(found)
 

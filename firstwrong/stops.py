@@ -6,7 +6,7 @@ from firstwrong.conditions import Candidates, is_condition_of, is_test, tested
 from firstwrong.errors import BadStop
 from firstwrong.kinds import is_one_of, is_same, is_tuple_of, is_word
 from firstwrong.momentparts import WRONG_WORDS
-from firstwrong.pasts import all_moments, moment_of, need_past, need_place, redone
+from firstwrong.pasts import all_moments, moment_of, need_past, need_place, numbers_from, redone
 from firstwrong.spots import is_thread_of
 from firstwrong.trees import need_program, pieces
 
@@ -123,7 +123,7 @@ def stop_beside(past, place, stop, forwards):
 def beside_at(past, place, stop, forwards):
     """The nearest place ahead of a step that a stop "at" tells."""
     done = 0
-    for number in range(place + 1, past.length) if forwards else range(place - 1, -1, -1):
+    for number in numbers_from(past, place + 1, place - 1, forwards):
         if is_deed_of(past, number, stop):
             moment, again = moment_of(past, number)
             done += again
@@ -135,7 +135,7 @@ def beside_at(past, place, stop, forwards):
 def beside_watch(past, place, stop, forwards):
     """The nearest place behind a deed that changes what is watched."""
     done = 0
-    for number in range(place, past.length) if forwards else range(place - 2, -1, -1):
+    for number in numbers_from(past, place, place - 2, forwards):
         if may_change(past.did[number], stop[1]):
             moment, again = moment_of(past, number)
             after = redone(past, number, moment)
