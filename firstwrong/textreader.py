@@ -125,7 +125,8 @@ class TextReader:
         """The block that was opened last ends."""
         opened = self.opened.pop()
         if opened.kind == "body":
-            self.draft.statements = tuple(opened.statements)
+            draft = self.draft
+            draft.statements = tuple(opened.statements)
         elif opened.kind != "head":
             self.opened[-1].statements.append(opened.statement_whole())
 
@@ -142,11 +143,12 @@ class TextReader:
         sorter = Sorter({word: row[0] for word, row in self.shared.items()}, self.draft)
         statement = self.put(sorter, told)
         begins = statement[0] in ("if", "while")
-        added = self.count_nodes(statement)
-        need(self.draft.count + added <= MOST_NODES, "many")
+        draft = self.draft
+        count = draft.count + self.count_nodes(statement)
+        need(count <= MOST_NODES, "many")
         need(not begins or len(self.opened) < MOST_BODIES, "many")
-        self.draft.count += added
-        self.begins.append((number, self.drafts.index(self.draft), self.place_now()))
+        draft.count = count
+        self.begins.append((number, self.drafts.index(draft), self.place_now()))
         if begins:
             self.opened.append(Opened(statement[0], statement[1]))
         else:

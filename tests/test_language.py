@@ -194,6 +194,30 @@ class Language(unittest.TestCase):
                 self.assertNotIsInstance(node, ast.GeneratorExp)
 
 
+class Attributes(unittest.TestCase):
+    def test_no_name_is_a_method_and_an_attribute(self):
+        methods, attributes = set(), set()
+        for name in NAMES:
+            for node in ast.walk(ast.parse(read(name))):
+                if isinstance(node, ast.ClassDef):
+                    methods |= {part.name for part in node.body if isinstance(part, ast.FunctionDef)}
+                if isinstance(node, ast.Attribute) and isinstance(node.ctx, ast.Store):
+                    attributes.add(node.attr)
+                    # Attributes are assigned through a local name.
+                    self.assertIsInstance(node.value, ast.Name, name)
+        self.assertEqual(methods & attributes, set())
+        values = {word for kind in (str, int, list, dict, set, bytes) for word in dir(kind)}
+        self.assertEqual({word for word in methods & values if not word.startswith("__")}, set())
+        self.assertLessEqual(attributes & values, {"count"})
+
+    def test_tables_hold_no_tables(self):
+        for name in NAMES:
+            for node in ast.parse(read(name)).body:
+                if isinstance(node, ast.Assign):
+                    inner = [part for part in ast.walk(node.value) if isinstance(part, (ast.List, ast.Dict)) and part is not node.value]
+                    self.assertEqual(inner, [], name)
+
+
 INTERFACE = """errors: WrongError BadBytes BadCell BadChart BadCheck BadChoices BadCode BadCondition BadDeed BadDisk
 BadEdit BadEntry BadFilm BadFlat BadInputs BadLayout BadLedger BadLine BadLog BadLook BadMoment BadNames BadNumber
 BadPast BadPlan BadSession BadSight BadStep BadStop BadStory BadTerm BadText BadTraces BadTree BadWeaving Lost NotNow
