@@ -41,7 +41,7 @@ def records_of(thing):
 def payload_at(row, at):
     """The payload of the record that is whole at this place; None if there is none."""
     body, mark = parted(row[at:at + AHEAD + MOST_PAYLOAD + BEHIND])
-    if mark is None or len(mark) < BEHIND or mark != four_bytes(mark_of(body)):
+    if mark is None or mark != four_bytes(mark_of(body)):
         return None
     return body[AHEAD:]
 
@@ -64,6 +64,6 @@ def why_ended(rest):
     if not 1 <= rest[0] <= MOST_KIND:
         return "strange"
     body, mark = parted(rest)
-    if mark is None or (len(mark) < BEHIND and mark == four_bytes(mark_of(body))[:len(mark)]):
+    if mark is None or mark == four_bytes(mark_of(body))[:len(mark)]:
         return "torn"
     return "strange"

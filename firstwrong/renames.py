@@ -35,17 +35,10 @@ class Words:
             self.locals.append(table)
 
 
-def is_name(thing, known):
-    """Whether any key is one of the names that are known."""
-    if not isinstance(thing, tuple) or not all([isinstance(part, str) for part in thing]):
-        return False
-    return thing in known
-
-
 def words_of_names(program, names):
     """The new words by a renaming; refuses what is none, or what two of a class share."""
     known = program_names(program)
-    if not isinstance(names, dict) or not all([is_name(key, known) for key in names]):
+    if not isinstance(names, dict) or not all([key in known for key in names]):
         raise BadNames(None)
     if not all([is_word(word) for word in names.values()]):
         raise BadNames(None)

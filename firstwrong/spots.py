@@ -1,7 +1,7 @@
 """Spots of a moment: cells and locals, as sights and looks name them."""
 
 from firstwrong.kinds import is_number_in, is_one_of, is_tuple_of, is_word
-from firstwrong.momentparts import MOST_FRAMES, SLOTS, is_there
+from firstwrong.momentparts import MOST_FRAMES, SLOTS, is_there, life_now
 
 MOST_LIFE = 2 ** 30
 MOST_OFFSET = 15
@@ -10,16 +10,16 @@ ALONE = ("free", "asked", "given", "wrong")
 
 def is_cell_of(program, thing):
     """Whether any value is a cell of a program, ("wrong",) among them."""
-    if not isinstance(thing, tuple) or thing == () or not isinstance(thing[0], str):
+    if not isinstance(thing, tuple) or thing == ():
         return False
     if len(thing) == 1:
-        return thing[0] in ALONE
-    if thing[0] == "lock":
-        return len(thing) == 2 and is_one_of(thing[1], program.locks)
-    if thing[0] == "block":
-        return len(thing) == 3 and is_block_name(thing[1], thing[2])
-    if thing[0] == "cell":
-        return len(thing) == 4 and is_cell_name(thing[1], thing[2], thing[3])
+        return is_one_of(thing[0], ALONE)
+    if len(thing) == 2:
+        return is_one_of(thing[0], ("lock",)) and is_one_of(thing[1], program.locks)
+    if len(thing) == 3:
+        return is_one_of(thing[0], ("block",)) and is_block_name(thing[1], thing[2])
+    if len(thing) == 4:
+        return is_one_of(thing[0], ("cell",)) and is_cell_name(thing[1], thing[2], thing[3])
     return False
 
 
@@ -103,7 +103,7 @@ def cells_of(moment):
     """All cells of memory that are there, with their values, as triples lead to them."""
     found = {}
     for slot, (_, _, cells) in moment.memory.items():
-        life = (moment.lives[slot] + 1) // 2
+        life = life_now(moment.lives, slot)
         for offset, value in enumerate(cells):
             found[(slot, life, offset)] = value
     return found

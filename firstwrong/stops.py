@@ -61,7 +61,7 @@ def is_deed_of(past, number, stop):
     """Whether a deed is a step of the thread, function and statement of a stop "at"."""
     _, thread, word, statement, _ = stop
     entry, function, done = past.did[number][:3]
-    if function is None or function != past.program.names.functions[word]:
+    if function != past.program.names.functions[word]:
         return False
     return (thread is None or entry == thread) and (statement is None or done == statement)
 

@@ -1,7 +1,7 @@
 """Edits of moments, and stories: inputs, and entries done one after the other."""
 
 from firstwrong.errors import BadEdit, BadInputs, BadStory, NotNow
-from firstwrong.kinds import is_int, is_number, is_one_of, is_row, is_tuple_of, is_word
+from firstwrong.kinds import is_int, is_number, is_one_of, is_tuple_of, is_word
 from firstwrong.momentparts import Sure
 from firstwrong.moments import Moment, need_moment
 from firstwrong.spots import cell_in, is_cell_name, is_thread_of, value_in
@@ -83,19 +83,14 @@ def is_entry(program, thing):
     return is_thread_of(program, thing) if is_number(thing) else is_edit_of(program, thing)
 
 
-def is_course(program, thing):
-    """Whether any value is a list of entries that a story may have."""
-    if not is_row(thing) or len(thing) > MOST_ENTRIES:
-        return False
-    return all([is_entry(program, entry) for entry in thing])
-
-
 def is_story(program, thing):
     """Whether any value is a story of a program."""
     need_program(program)
     if not is_tuple_of(thing, 2) or not isinstance(thing[0], tuple) or not isinstance(thing[1], tuple):
         return False
-    return all([is_int(number) for number in thing[0]]) and is_course(program, thing[1])
+    if not all([is_int(number) for number in thing[0]]) or len(thing[1]) > MOST_ENTRIES:
+        return False
+    return all([is_entry(program, entry) for entry in thing[1]])
 
 
 def is_idle(moment, inputs, entry):

@@ -4,7 +4,6 @@ An expression is read as a pair: how deep it is, and a tree of it in which
 "plus" and "minus" stand for what hangs on sorts.
 """
 
-from firstwrong.kinds import is_int
 from firstwrong.texttokens import is_figures, is_word_token, tokens_of
 
 MOST_DEEP = 12
@@ -51,7 +50,7 @@ class FormReader:
 
     def skip(self, token):
         """Reads this token if it is the next one; whether it is."""
-        if self.ahead() != token or token == "":
+        if self.ahead() != token:
             return False
         self.spot += 1
         return True
@@ -82,10 +81,7 @@ class FormReader:
 
     def int_told(self):
         """An int."""
-        number = -self.figures(1, 2 ** 31) if self.skip("-") else self.figures(0, 2 ** 31 - 1)
-        if not is_int(number):
-            raise WrongLine("form")
-        return number
+        return -self.figures(1, 2 ** 31) if self.skip("-") else self.figures(0, 2 ** 31 - 1)
 
     def read_sort(self, most):
         """A sort with at most so many stars."""

@@ -161,7 +161,8 @@ class TextReader:
             need(told[1] in self.locks, "word")
             return
         if word in ("let", "make", "ask", "call"):
-            need(told[1] in self.draft.sorts or (word == "call" and told[1] == ""), "word")
+            # Only a "call" may have no local.
+            need(told[1] in self.draft.sorts or told[1] == "", "word")
         if word == "call":
             need(self.found_draft(told[2]) is not None, "word")
         for expression in expressions_of(told):

@@ -29,6 +29,14 @@ def locked():
     return Program(((("s", "int", 1),), ("k", "l"), (("a", (), (), (), "none", one), ("b", (), (), (), "none", two)), ("a", "b")))
 
 
+def nested():
+    """Calls that are first statements, and functions that end at once."""
+    a = ("a", (), (), (), "none", (("call", "", "b", ()), ("call", "", "b", ())))
+    b = ("b", (), (), (("m", "int", 1),), "none", (("call", "", "c", ()),))
+    c = ("c", (), (), (), "none", ())
+    return Program(((("s", "int", 1),), (), (a, b, c, ("main", (), (), (), "none", (("call", "", "a", ()), ("call", "", "c", ())))), ("main", "a")))
+
+
 def some_edit(dice, made, moment):
     """An edit that can be done at the moment, or nearly."""
     words = sorted({word for table in made.names.locals for word in table})
@@ -74,7 +82,7 @@ def plain(start, story):
 def stories(many, long=40):
     """Pairs (start, story): over the programs by hand, and over random ones."""
     rows = [(spill(), (3, 1)), (spill(), (4, 1)), (spill(), (4, 0)), (tally(), ()), (sorter(), (3, 2, 9, 1)), (caller(), (4,)), (caller(), (9, 3)),
-            (locked(), ())]
+            (locked(), ()), (nested(), ())]
     rows += [(Maker(seed).program(), tuple(inputs_of(seed))) for seed in range(many)]
     found = []
     for seed, (made, inputs) in enumerate(rows):
@@ -84,5 +92,5 @@ def stories(many, long=40):
             # A start in the middle of a run, with something asked and given.
             for entry in course_of(dice, start, inputs, 12):
                 start = behind(start, inputs, entry) or start
-        found.append((start, (inputs, course_of(dice, start, inputs, long + (30 if seed < 8 else 0)))))
+        found.append((start, (inputs, course_of(dice, start, inputs, long + (30 if seed < 9 else 0)))))
     return found

@@ -185,6 +185,39 @@ class Maker:
         return Program((self.shared, self.locks, tuple(functions), threads))
 
 
+class Brancher(Maker):
+    """Makes programs that turn on their inputs."""
+
+    def try_statement(self, head, deep):
+        d = self.dice
+        ints = [word for word, sort in head[1] + head[2] if sort == "int"]
+        kind = d.random()
+        if kind < 0.12:
+            return ("ask", d.choice(ints), 0, 9)
+        if kind < 0.35 and deep < 3:
+            test = ("local", d.choice(ints)) if d.random() < 0.7 else self.expression(head, "int", 2)
+            return ("if", test, self.body(head, deep + 1), self.body(head, deep + 1))
+        if kind < 0.42 and deep < 3:
+            word = d.choice(ints)
+            return ("while", ("below", ("int", 0), ("local", word)), self.body(head, deep + 1) + (("let", word, ("int", 0)),))
+        return Maker.try_statement(self, head, deep)
+
+    def prelude(self, head):
+        ints = [word for word, sort in head[2] if sort == "int"]
+        return Maker.prelude(self, head) + [("ask", word, 0, 9) for word in ints[:2]]
+
+
+def branching_runs(many, steps=50, first=0):
+    """Triples (program, inputs, weaving) of runs that turn on their inputs."""
+    found = []
+    for seed in range(first, first + many):
+        made = Brancher(seed).program()
+        inputs = inputs_of(seed, 60)
+        inputs = [abs(number) for number in inputs]
+        found.append((made, inputs, weaving_of(begun(made), inputs, steps, seed)))
+    return found
+
+
 def programs(many, first=0):
     """So many random programs."""
     return [Maker(seed).program() for seed in range(first, first + many)]

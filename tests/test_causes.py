@@ -4,7 +4,8 @@ import random
 import unittest
 
 from akin import all_sights, exchanged, moments_of
-from made import I, L, Maker, all_runs, by_words, inputs_of, program, runs, weaving_of
+from made import I, L, all_runs, branching_runs, by_words, program, runs, weaving_of
+from plainflows import PlainFlows
 from firstwrong.causes import causes_of, is_copying, wrong_causes
 from firstwrong.errors import BadInputs, BadMoment, BadNumber, BadSight, BadTree, NotNow, TooMany
 from firstwrong.moments import Moment, begun
@@ -255,11 +256,21 @@ class GhostsByHand(unittest.TestCase):
     def test_frame_of_another_function_is_not_known(self):
         # The other way is in g at depth 2 while the thread is in f there: its local is not known, what needs none is.
         more = (("f", (), (("b", "int"),), (), "none", (("let", "b", I(1)), ("let", "b", I(1)), ("let", "b", I(1)), ("let", "b", I(1)))),
-                ("g", (), (("b", "int"),), (), "none", (("let", "b", I(1)), ("if", L("b"), (("take", "k"),), (("ask", "b", 0, 9),)),)),
+                ("g", (), (("c", "int"),), (), "none", (("let", "c", I(1)), ("if", L("c"), (("take", "k"),), (("ask", "c", 0, 9),)),)),
                 ("h", (), (("b", "int"),), (), "none", (("let", "b", I(1)), ("if", I(1), (("take", "k"),), (("ask", "b", 0, 9),)),)))
         for word, told in (("g", [asks(0)]), ("h", [])):
             made = split((("call", "", word, ()),), otherwise=(("call", "", "f", ()),), more=more)
             self.told(made, 6, (("lock", "k"), [asks(0)]), (("asked",), told))
+
+    def test_frames_deeper_than_the_stack_are_not_known(self):
+        # The other way calls itself again, where the thread has no frame.
+        more = (("f", (("n", "int"),), (), (), "none", (("if", L("n"), (("take", "k"),), (("ask", "n", 0, 9),)), ("call", "", "f", (I(0),)))),)
+        made = split((("call", "", "f", (I(0),)),), ("let", "y", I(1)), ("let", "y", I(1)), ("let", "y", I(1)), ("let", "y", I(1)), more=more)
+        self.told(made, 5, (("lock", "k"), [asks(0)]), (("asked",), [asks(0)]))
+        # Of a block that stands: its name is known if nothing hangs on it.
+        name = ("same", ("block", "m"), ("block", "m"))
+        made = split((("if", name, (("take", "k"),), (("ask", "y", 0, 9),)),), ("let", "y", I(1)), ("let", "y", I(1)), blocks=(("m", "int", 1),))
+        self.told(made, 4, (("lock", "k"), [asks(0)]), (("asked",), []))
 
     def test_sources_lead_astray_each_for_itself(self):
         made = one(("ask", "x", 0, 1), ("ask", "y", 0, 1), ("if", X, (("if", Y, (("take", "k"),), ()),), (("if", Y, (("take", "k"),), ()),)),
@@ -296,6 +307,13 @@ class GhostsByHand(unittest.TestCase):
                 self.assertEqual(wrong_causes(begun(wrong), [0], weaving), (asks(0),))
             else:
                 self.assertRaises(TooMany, wrong_causes, begun(wrong), [0], weaving)
+
+    def test_each_way_is_kept_once(self):
+        # Ten tests that are not known and lead on in one way: no more ghosts than one.
+        body = (("ask", "x", 0, 1), ("if", X, (("let", "y", I(1)),), ())) + (("if", X, (), ()),) * 10 + (("let", "y", I(1)),) * 4
+        made = program(body, ROWS)
+        for many in range(2, 14):
+            self.assertEqual(causes(made, [0], [0] * many, ("way", 0)), (asks(0),))
 
     def test_ghosts_of_12_frames_vanish(self):
         # The other way calls itself ever deeper; the thread ends.
@@ -379,6 +397,37 @@ class WrongByHand(unittest.TestCase):
         self.told(made, [0], 5, [], "lock")
         made = one(("ask", "x", 0, 1), ("if", X, (("take", "k"),), (("let", "y", I(1)),)), ("leave", "k"))
         self.told(made, [0], 4, [asks(0)], "lock")
+
+
+class WordByWord(unittest.TestCase):
+    """All causes against those of plainflows.py."""
+
+    def test_runs(self):
+        told, astray = 0, 0
+        for seed, (made, inputs, weaving) in enumerate(all_runs(30, 50) + branching_runs(90)):
+            place = random.Random(seed).randint(0, min(len(weaving), 20)) if seed % 2 else 0
+            start, rest = run(begun(made), inputs, weaving[:place])[0][-1], weaving[place:]
+            if start.wrong is not None:
+                continue
+            moments = run(start, inputs, rest)[0]
+            wrong = moments[-1].wrong is not None
+            ahead, moments = (rest[:-1], moments[:-1]) if wrong else (rest, moments)
+            flows = PlainFlows(start)
+            try:
+                for thread, after in zip(ahead, moments[1:]):
+                    flows.step(thread, after)
+            except TooMany:
+                self.assertRaises(TooMany, causes_of, start, inputs, ahead, ("asked",))
+                continue
+            for sight in all_sights(moments):
+                found = causes_of(start, inputs, ahead, sight)
+                self.assertEqual(found, tuple(sorted(flows.of_sight(sight))), (seed, sight))
+                told += len(found)
+                astray += len(found) if sight[0] == "way" else 0
+            if wrong:
+                self.assertEqual(wrong_causes(start, inputs, rest), tuple(sorted(flows.of_wrong(rest[-1]))))
+        self.assertGreater(told, 2000)
+        self.assertGreater(astray, 20)
 
 
 class Hearts(unittest.TestCase):

@@ -45,7 +45,7 @@ class Cells(unittest.TestCase):
     def test_what_is_none(self):
         made, _ = setting()
         for thing in (None, 5, "free", (), ["free"], ("cell", 32, 1, 0), ("cell", 0, 0, 0), ("cell", 0, 2 ** 30 + 1, 0), ("cell", 0, 1, 16), ("cell", True, 1, 0),
-                      ("cell", 0, 1), ("block", 32, 1), ("block", 0, 2 ** 30 + 1), ("block", 0, False), ("block", 0, 1, 0), ("free", 0), ("lock", "m"), ("lock",),
+                      ("cell", 0, 1), ("block", 32, 1), ("block", 0, 2 ** 30 + 1), ("block", 0, False), ("block", 0, 1, 0), ("free", 0), ("lock", "m"), ("lock",), ("lock", "k", "k"), ("block", 0, 1, 0, 0), ("cell", 0, 1, 0, 0), (["free"],), ("wrong", 0),
                       ("lock", 0), ("given", 0), ("way", 0), ("name", 0, 1, "n"), ("local", 2, 1, "x"), ("local", 0, 0, "x"), ("local", 0, 13, "x"),
                       ("local", 0, 1, "X"), ("local", True, 1, "x"), ("local", 0, 1), (None,), ((),)):
             self.assertFalse(is_cell(made, thing), thing)
@@ -312,7 +312,7 @@ class Stops(unittest.TestCase):
 
     def test_what_is_none(self):
         made, _ = setting()
-        for thing in (None, 5, (), "at", ["wrong", "deep"], ("wrong", "bad"), ("wrong", None), ("wrong",), ("wrong", "deep", 1), ("watch", ("way", 0)), ("watch", None),
+        for thing in (None, 5, (), "at", ("on", None, "main", None, I(1)), ("bad", "deep"), (None, "deep"), ("at", None, ["main"], None, I(1)), ["wrong", "deep"], ("wrong", "bad"), ("wrong", None), ("wrong",), ("wrong", "deep", 1), ("watch", ("way", 0)), ("watch", None),
                       ("watch",), ("when", L("x")), ("when", ("byte", 1)), ("when", None), ("at", 2, "main", None, I(1)), ("at", True, "main", None, I(1)),
                       ("at", -1, "main", None, I(1)), ("at", None, "z", None, I(1)), ("at", None, None, None, I(1)), ("at", None, 0, None, I(1)),
                       ("at", None, "main", ("give", L("a")), I(1)), ("at", None, "main", I(5), I(1)), ("at", None, "main", 5, I(1)), ("at", None, "main", (), I(1)),
@@ -419,6 +419,18 @@ class Stops(unittest.TestCase):
         self.assertEqual(next_stop(past=past, place=0, stop=("wrong", "deep")), (None, 0))
         # A statement that is none: the end of main stops for any statement.
         self.assertIsNone(deed_at(past, 33)[2])
+
+    def test_the_first_places(self):
+        made = program((("store", S, I(1)), ("store", S, I(0)), ("store", S, I(2))), (), (("s", "int", 1),))
+        past = Past(begun(made), ((), (0,) * 4), 1)
+        stop = ("when", ("at", S))
+        self.assertEqual((stopping_places(past, stop), stopping_places(past, ("watch", ("cell", 0, 1, 0)))), ([1, 3], [1, 2, 3]))
+        self.assertEqual([next_stop(past, place, stop)[0] for place in range(5)], [1, 3, 3, None, None])
+        self.assertEqual([last_stop(past, place, stop)[0] for place in range(5)], [None, None, 1, 1, 3])
+        self.assertEqual(stopping_places(past, ("when", ("not", ("at", S)))), [2])
+        # Each deed that may change what is watched is done once more, whatever each is.
+        self.assertEqual(next_stop(past, 0, ("watch", ("cell", 0, 1, 0))), (1, 1))
+        self.assertEqual(next_stop(past, 3, ("watch", ("local", 0, 1, "q"))), (None, 1))
 
     def test_wrong_by_hand(self):
         past = Past(begun(spill()), ((5,), (0,) * 40), 3)

@@ -150,6 +150,14 @@ thread g""")
                 (("at", ("on", ("at", ("on", L("r"), a)), b)), "@r[@x][@y]"), (("at", ("on", Q, ("or", a, b))), "@p[@x or @y]"),
                 (("times", ("at", Q), ("at", Q)), "*@p * *@p"), (("gap", ("on", Q, a), ("shared", "s")), "@p + @x - $s"),
                 (("gap", Q, ("on", Q, a)), "@p - (@p + @x)"), (("wide", ("sum", B, ("low", ("sum", a, b)))), "int(@b + byte(@x + @y))"),
+                (("same", ("sum", a, b), ("times", a, b)), "@x + @y == @x * @y"), (("below", ("same", a, b), ("below", a, b)), "(@x == @y) < (@x < @y)"),
+                (("or", ("or", a, b), ("and", a, b)), "@x or @y or @x and @y"), (("and", ("and", a, b), ("not", a)), "@x and @y and not @x"),
+                (("sum", ("sum", a, b), ("times", a, b)), "@x + @y + @x * @y"), (("sum", ("less", a, b), ("sum", a, b)), "@x - @y + (@x + @y)"),
+                (("less", ("sum", a, b), ("times", a, b)), "@x + @y - @x * @y"), (("times", ("times", a, b), ("at", Q)), "@x * @y * *@p"),
+                (("share", ("share", a, b), ("at", Q)), "@x / @y / *@p"), (("rest", ("rest", a, b), ("at", Q)), "@x rest @y rest *@p"),
+                (("share", a, ("times", a, b)), "@x / (@x * @y)"), (("rest", a, ("share", a, b)), "@x rest (@x / @y)"),
+                (("gap", ("on", ("on", Q, a), ("times", a, b)), Q), "@p + @x + @x * @y - @p"), (("gap", Q, Q), "@p - @p"),
+                (("same", ("on", ("on", Q, a), ("sum", a, b)), Q), "@p + @x + (@x + @y) == @p"),
                 (("wide", ("byte", 255)), "int(byte 255)"), (("same", ("null", "int"), ("block", "m")), "null(int) == &m"),
                 (("same", L("r"), ("null", P)), "@r == null(int*)"), (("at", ("on", ("null", "int"), a)), "null(int)[@x]"),
                 (("at", ("null", "int")), "*null(int)"), (("less", ("not", a), ("or", a, b)), "(not @x) - (@x or @y)")):
@@ -329,7 +337,7 @@ class Wrong(unittest.TestCase):
                      "give @x == not @y", "give 1 + not 1", "give not", "give 1 +", "give + 1", "give 1 and", "give and 1", "give 1 not 1", "give -0",
                      "give --1", "give -@x", "give -(1)", "give 2147483648", "give -2147483649", "give byte 256", "give byte -1", "give byte", "give byte @x",
                      "give int 5", "give int", "give null", "give null()", "give null(int**)", "give null(@p)", "give null(x)", "give int()", "give byte()",
-                     "give @p[]", "give @p[1", "give [1]", "give @p[1)", "give @1", "give @@x", "give @(x)", "give f()", "give call f(1, @b)", "give ask(1, 2)",
+                     "give @p[]", "give @p[1", "give [1]", "give @p[1)", "give @1", "give @@x", "give @(x)", "give f()", "give f(1)", "give foo(1)", "give make(1)", "give not(", "give f(1) + 2", "give call f(1, @b)", "give ask(1, 2)",
                      "give @x = 1", "give 1,", "give 1 or or 1", "give * * ", "give @x rest", "give @x / * ", "give rest 1", "give @p[1, 2]")
 
     def test_form_of_statements(self):
@@ -443,7 +451,15 @@ class Wrong(unittest.TestCase):
         self.assertEqual(expression("+".join(["1"] * 12))[0], "sum")
         self.in_body("form", "give " + "+".join(["1"] * 13), "give " + "not " * 12 + "1", "give " + "+".join(["1"] * 5000), "give " + "not " * 5000 + "1",
                      "give " + "*" * 12 + "@p", "give " + "*" * 5000 + "@p", "*" * 5000 + "@p = 1")
-        expression("not " * 11 + "1")
+        for leaf in ("1", "@x", "(@x)", "-3"):
+            expression("not " * 11 + leaf)
+            self.in_body("form", "give " + "not " * 12 + leaf)
+        for leaf in ("byte 1", "@b"):
+            expression("not " * 10 + f"int({leaf})")
+            self.in_body("form", "give " + "not " * 11 + f"int({leaf})")
+        for leaf in ("$s", "&m", "@p", "null(int)"):
+            expression("not " * 10 + f"*{leaf}")
+            self.in_body("form", "give " + "not " * 11 + f"*{leaf}")
         # E[E] is two deeper than its parts.
         for text in ("@p[" + "not " * 9 + "1]", "*(@p + (" + "not " * 9 + "1))"):
             self.assertEqual(expression(text)[0], "at")
@@ -457,7 +473,8 @@ class Wrong(unittest.TestCase):
         self.in_body("form", "give " + "(" * 13 + "1" + ")" * 13, "give " + "(" * 5000 + "1" + ")" * 5000, "@p = make int[" + "(" * 12 + "1" + ")" * 12 + "]",
                      "@x = call f(" + "(" * 12 + "1" + ")" * 12 + ", @b)", "give @p[" + "(" * 12 + "1" + ")" * 12 + "]")
         self.assertEqual(read("@p = make int[" + "(" * 11 + "1" + ")" * 11 + "]", "@x = call f(" + "(" * 11 + "1" + ")" * 11 + ", @b)")[0][3], I(1))
-        # Only those open at once count.
+        # Only those open at once count, whatever was closed ahead.
+        self.in_body("form", "give (1) + (2) + " + "(" * 13 + "1" + ")" * 13)
         self.assertEqual(expression("+".join(["((((((((((((1))))))))))))"] * 5))[0], "sum")
 
     def test_edges_of_numbers_and_words(self):
@@ -569,7 +586,7 @@ class WrongLines(unittest.TestCase):
             made = mended(text)
             self.assertEqual(program_of_text(text_of(made)), made)
             self.assertEqual(wrong_lines(text) == [], self.reads(text))
-        for text in ("(" * 10 ** 5, "give " * 10 ** 4, "[" * 10 ** 5, "a" * 10 ** 6, "9" * 10 ** 6, "\n" * 1000, with_body("give " + "-" * 10 ** 4)):
+        for text in (with_body("give " + "9" * 10 ** 5), with_body("give 1" + "0" * 5000), "(" * 10 ** 5, "give " * 10 ** 4, "[" * 10 ** 5, "a" * 10 ** 6, "9" * 10 ** 6, "\n" * 1000, with_body("give " + "-" * 10 ** 4)):
             mended(text)
 
     def reads(self, text):

@@ -115,6 +115,10 @@ class RecordsOf(unittest.TestCase):
     def test_why_by_hand(self):
         record = record_bytes(2, [5])
         self.assertEqual(records_of((0,)), ([], 0, "strange"))
+        # No record has another kind, be the mark as it may.
+        for kind in (0, 6):
+            body = (kind, 1, 0, 9)
+            self.assertEqual(records_of(body + four_bytes(mark_of(body))), ([], 0, "strange"))
         self.assertEqual(records_of((6,)), ([], 0, "strange"))
         self.assertEqual(records_of((5,)), ([], 0, "torn"))
         self.assertEqual(records_of((2, 255, 255, 1)), ([], 0, "torn"))

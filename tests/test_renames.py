@@ -301,11 +301,23 @@ class Between(unittest.TestCase):
         two = program((("give", ("at", ("shared", "a"))),), (), (("a", "int", 1), ("b", "byte", 2), ("c", "int", 1)), ("k", "m"))
         found = names_between(one, two)
         self.assertEqual((found[("shared", "b")], found[("shared", "a")], found[("shared", "c")]), ("a", "c", "b"))
+        # The one that is used first, and several that are not.
+        rows = (("a", "int", 1), ("b", "int", 1), ("c", "int", 1), ("d", "int", 1))
+        many = [program((("give", ("at", ("shared", word))),), (), rows, ("k", "l", "m")) for word in "abcd"]
+        for here in many:
+            for other in many:
+                self.assertEqual(renamed(here, names_between(here, other)), other)
         three = program((("give", ("at", ("shared", "a"))),), (), (("a", "int", 1), ("b", "byte", 2), ("c", "int", 2)), ("k", "m"))
         self.assertIsNone(names_between(one, three))
         four = program((("give", ("at", ("shared", "a"))),), (), (("a", "int", 1), ("b", "byte", 2)), ("k", "m"))
         self.assertIsNone(names_between(one, four))
         self.assertIsNone(names_between(four, one))
+
+    def test_statements_of_unlike_forms(self):
+        body = lambda *rows: program(rows, locks=("k",))
+        for one, two in ((("take", "k"), ("return",)), (("leave", "k"), ("take", "k")), (("take", "k"), ("give", I(1)))):
+            self.assertIsNone(names_between(body(one), body(two)))
+            self.assertIsNone(names_between(body(two), body(one)))
 
     def test_blocks_told_apart_by_their_uses(self):
         def made(first, second):

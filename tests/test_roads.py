@@ -4,7 +4,8 @@ import random
 import unittest
 
 from akin import all_sights, exchanged, moments_of
-from made import I, L, all_runs, by_words, program, runs, weaving_of
+from made import I, L, all_runs, branching_runs, by_words, program, weaving_of
+from plainflows import PlainFlows
 from firstwrong.chains import chain_of, is_chain
 from firstwrong.errors import BadInputs, BadMoment, BadNumber, BadSight, NotNow
 from firstwrong.moments import Moment, begun
@@ -28,6 +29,16 @@ def one(*body, **more):
     return program(body, ROWS, (("s", "int", 2), ("t", P, 1)), **more)
 
 
+def copier():
+    """Two threads that hand values on through locals, params, results and cells of like words."""
+    f = ("f", (("x", "int"), ("y", "int")), (("z", "int"),), (), "int", (
+        ("let", "z", X), ("let", "x", Y), ("call", "y", "g", (L("z"), X)), ("store", S, Y), ("return", L("z"))))
+    g = ("g", (("y", "int"), ("x", "int")), (), (), "int", (("store", ("on", S, I(1)), Y), ("return", X)))
+    body = (("let", "x", I(1)), ("let", "y", I(2)), ("call", "x", "f", (X, Y)), ("call", "y", "g", (Y, X)), ("let", "z", ("at", S)),
+            ("let", "x", ("at", ("on", S, I(1)))), ("call", "z", "f", (L("z"), I(3))), ("let", "y", L("z")))
+    return program(body, (("x", "int"), ("y", "int"), ("z", "int")), (("s", "int", 2),), more=(f, g), threads=("main", "main"))
+
+
 class Accounts(unittest.TestCase):
     def told(self, made, inputs, weaving, word, *behind):
         start = begun(made)
@@ -41,6 +52,14 @@ class Accounts(unittest.TestCase):
         # The todo that is () leaves its target unset.
         self.told(one(("let", "x", I(1)), ("call", "x", "g", ()), ("give", X)), [], [0] * 4, "unset", ("left", 2))
         self.told(one(("call", "y", "f", (I(1),)), ("call", "y", "g", ()), ("give", Y)), [], [0] * 6, "unset", ("left", 4))
+        # A target of another word, or of another depth, is not this local.
+        self.told(one(("call", "x", "g", ()), ("give", Y)), [], [0] * 3, "unset", ("left", None))
+        deep = (("f", (), (("x", "int"),), (), "int", (("call", "x", "g", ()), ("let", "x", I(1)), ("return", X))), G)
+        self.told(one(("call", "y", "f", ()), ("give", X), more=deep), [], [0] * 6, "unset", ("left", None))
+        # A frame that ends with a value leaves nothing unset; one that begins right ahead of the wrong step counts.
+        self.told(one(("call", "y", "f", (I(1),)), ("give", ("sum", Y, X))), [], [0] * 4, "unset", ("left", None))
+        two = (("f", (), (("b", "int"),), (), "none", (("call", "", "h", ()), ("give", L("b")))), ("h", (), (), (), "none", ()))
+        self.told(one(("give", I(1)), ("call", "", "f", ()), more=two), [], [0] * 5, "unset", ("left", 1))
         # What another thread leaves unset does not count.
         self.told(one(("let", "x", I(1)), ("call", "y", "g", ()), ("give", ("same", X, Y)), threads=("main", "main")), [],
                   [0, 0, 0, 1, 1, 1, 0], "unset", ("left", 2))
@@ -124,6 +143,53 @@ class Accounts(unittest.TestCase):
         self.assertEqual(account_of(moment=start, inputs=(), weaving=(0, 0)), (("did", 1), ("lock", 0)))
 
 
+class PlainRoads:
+    """The writes of all steps of a run, by their words, and the roads that they make."""
+
+    def __init__(self, start, inputs, weaving):
+        self.moments, self.traces = run(start, inputs, weaving)
+        self.written = [self.writes(step, thread) for step, thread in enumerate(weaving)]
+
+    def writes(self, step, thread):
+        """What a step wrote: dict from sights to expressions, None for other values."""
+        moment, after = self.moments[step], self.moments[step + 1]
+        if after.wrong is not None:
+            return {}
+        stack = moment.stacks[thread]
+        depth, (_, todo, _, _, target) = len(stack), stack[-1]
+        statement = todo[0] if todo else ("return", None)
+        word = statement[0]
+        if word in ("let", "ask", "make"):
+            return {("local", thread, depth, statement[1]): statement[2] if word == "let" else None}
+        if word == "store":
+            return {self.traces[step][1][0]: statement[2]}
+        if word == "call":
+            head = moment.program.functions[moment.program.names.functions[statement[2]]]
+            found = {("local", thread, depth + 1, own): None for own, _ in head[2]}
+            return {**found, **{("local", thread, depth + 1, own): e for (own, _), e in zip(head[1], statement[3])}}
+        if word == "return" and target:
+            return {("local", thread, depth - 1, target): statement[1]}
+        return {}
+
+    def road(self, weaving, place, sight):
+        links = [(place, sight)]
+        while True:
+            steps = [step for step in range(place) if sight in self.written[step]]
+            if not steps:
+                return tuple(links + [(0, sight)] * (place > 0))
+            place = steps[-1]
+            e, thread = self.written[place][sight], weaving[place]
+            depth = len(self.moments[place].stacks[thread])
+            sight = None
+            if e is not None and e[0] == "local":
+                sight = ("local", thread, depth, e[1])
+            elif e is not None and e[0] == "at":
+                sight = ("cell",) + PlainFlows(self.moments[place]).work(e[1], thread, depth, set())
+            links.append((place, sight))
+            if sight is None:
+                return tuple(links)
+
+
 class Roads(unittest.TestCase):
     def told(self, made, inputs, many, sight, *behind, place=None):
         start = begun(made)
@@ -185,13 +251,15 @@ class Roads(unittest.TestCase):
 
     def test_roads_of_runs(self):
         found = 0
-        for seed, (made, inputs, weaving) in enumerate(all_runs(25, 40)):
+        rows = all_runs(25, 40) + branching_runs(25) + [(made, [], weaving_of(begun(made), [], 60, seed)) for seed, made in enumerate([copier()] * 6)]
+        for seed, (made, inputs, weaving) in enumerate(rows):
             dice = random.Random(seed)
             cut = dice.randint(0, len(weaving) // 2)
             start, rest = run(begun(made), inputs, weaving[:cut])[0][-1], weaving[cut:]
             if start.wrong is not None:
                 continue
             moments, traces = run(start, inputs, rest)
+            plain = PlainRoads(start, inputs, rest)
             for sight in all_sights(moments):
                 if sight[0] not in ("local", "cell"):
                     continue
@@ -205,6 +273,7 @@ class Roads(unittest.TestCase):
                     continue
                 road = road_of(start, inputs, rest, place, sight)
                 found += 1
+                self.assertEqual(road, plain.road(rest, place, sight))
                 self.heart(moments, traces, road, value)
                 self.near(start, inputs, rest, road)
         self.assertGreater(found, 100)
@@ -345,6 +414,32 @@ class Chains(unittest.TestCase):
         name = ("name", 0, 2, "n")
         told = chain_of(start, [1], [0] * 4, start, [0], name)
         self.assertEqual(told, ((4, name), (3, ("free",)), (2, ("way", 0)), (1, ("local", 0, 1, "x")), (0, ("input", 0))))
+
+    def test_names_as_links(self):
+        # By input 0 a or b gets the slot of a block that went; which one hangs on where their frames' blocks stand.
+        away = ("away", ("at", ("shared", "t")))
+        a = ("a", (("x", "int"),), (("z", "int"),), (("m", "int", 1),), "none",
+             (("if", L("x"), (("let", "z", I(1)),), (away,)), ("call", "", "b", ()), ("let", "z", I(2))))
+        b = ("b", (), (("q", P),), (("n", "int", 1),), "none", (("let", "q", ("block", "n")), ("return",)))
+        made = one(("ask", "x", 0, 1), ("make", "p", "int", I(1)), ("store", ("shared", "t"), Q), ("if", X, (away,), (("let", "y", I(1)),)),
+                   ("call", "", "a", (X,)), ("give", I(1)), more=(a, b))
+        start = begun(made)
+        for block in (("block", 2, 2), ("block", 3, 1)):
+            told = chain_of(start, [1], [0] * 11, start, [0], block)
+            self.assertEqual(told[:3], ((11, block), (10, ("name", 0, 3, "n")), (8, ("free",))))
+            self.assertTrue(is_chain(start, [1], [0] * 11, start, [0], block, told))
+        q = ("local", 0, 3, "q")
+        told = chain_of(start, [1], [0] * 10, start, [0], q)
+        self.assertEqual(told[:3], ((10, q), (9, ("name", 0, 3, "n")), (8, ("free",))))
+        self.assertTrue(is_chain(start, [1], [0] * 10, start, [0], q, told))
+        self.assertEqual(told[-1], (0, ("input", 0)))
+
+    def test_one_step(self):
+        made = one(("let", "y", I(1)))
+        start = begun(made)
+        other = Moment(made, start.lives, {**start.memory, 0: ("shared", "int", (9, 0))}, start.held, start.stacks, 0, (), None)
+        cell = ("cell", 0, 1, 0)
+        self.assertEqual(chain_of(start, [], [0], other, [], cell), ((1, cell), (0, cell)))
 
     def test_chains_of_runs(self):
         found, same = 0, 0

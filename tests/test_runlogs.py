@@ -101,7 +101,7 @@ class Logs(unittest.TestCase):
         self.assertEqual(logged(made, head), [begun(made)])
         for thing, why in (((), "whole"), (head[:5], "torn"), (head[:10], "torn"), (log_bytes(other, [], []), "strange"), ((9,), "strange"),
                            (record_bytes(2, [0]), "strange"), (told(0), "strange"), (record_bytes(1, [1, 2, 3, 4]), "strange"),
-                           (record_bytes(1, head[3:7] + (0,)), "strange"), (record_bytes(1, []), "strange")):
+                           (record_bytes(1, head[3:7] + (0,)), "strange"), (record_bytes(1, []), "strange"), (record_bytes(4, head[3:7]), "strange")):
             self.assertEqual(read_log(made, thing), ((), 0, why))
             self.assertEqual(logged(made, thing), [])
 
@@ -163,7 +163,7 @@ class Logs(unittest.TestCase):
         # At wrong places: what stands ahead is told.
         for ahead, wrong in (([head], picture(first)), ([head], mark(first)), ([head], told(1)), ([head, one], picture(start)), ([head, one], mark(start)),
                              ([head, one], told(2)), ([head, one, told(1)], told(0)), ([head, one, two, told(2)], told(1)), ([head, one], head), ([head], head),
-                             ([head, one], record_bytes(3, [])), ([head, one], record_bytes(3, moment_bytes(first)[:-1])),
+                             ([head, one], record_bytes(1, four_bytes(0))), ([head, one], record_bytes(1, four_bytes(1))), ([head, one], record_bytes(3, [])), ([head, one], record_bytes(3, moment_bytes(first)[:-1])),
                              ([head, one], record_bytes(3, moment_bytes(first) + (0,))), ([head, one], record_bytes(4, [1, 2, 3, 4])),
                              ([head, one], record_bytes(4, [])), ([head, one], record_bytes(5, [0, 0, 0])), ([head, one], record_bytes(5, [0, 0, 0, 0, 0])),
                              ([head, one], told(2 ** 32 - 1))):

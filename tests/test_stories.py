@@ -74,6 +74,16 @@ class Edits(unittest.TestCase):
             Moment(made, after.lives, after.memory, after.held, after.stacks, after.asked, after.given, after.wrong)
         self.assertEqual(moment, setting()[1])
 
+    def test_the_others_stay(self):
+        made = program((("give", I(1)),), tuple((word, "int") for word in "abcd"), (("s", "int", 4),))
+        start = begun(made)
+        start = Moment(made, start.lives, {0: ("shared", "int", (1, 2, 3, 4))}, (), (((0, made.functions[0][5], (5, 6, 7, 8), (), ""),),), 0, (), None)
+        for place in range(4):
+            cells = edited(start, ("cell", 0, 1, place, 9)).memory[0][2]
+            self.assertEqual(cells, (1, 2, 3, 4)[:place] + (9,) + (1, 2, 3, 4)[place + 1:])
+            values = edited(start, ("local", 0, "abcd"[place], 9)).stacks[0][0][2]
+            self.assertEqual(values, (5, 6, 7, 8)[:place] + (9,) + (5, 6, 7, 8)[place + 1:])
+
     def test_not_now(self):
         made, moment = setting()
         # x is a local of the frame below; thread 2 has ended; sorts do not fit; cells are not there.

@@ -259,6 +259,23 @@ class Films(unittest.TestCase):
             film_back(film)
         self.assertEqual(caught.exception.most, 2000)
 
+    def test_longest_ways_back(self):
+        made = endless()
+        self.assertEqual((fewest_steps(729, 16), fewest_steps(730, 16)), (2000, 2003))
+        moments, done = all_back(made, [], [0] * 729, 16)
+        self.assertEqual((len(moments), done), (730, 2000))
+        for many in (730, 1000, 1001, 5000):
+            with self.assertRaises(TooMany) as caught:
+                all_back(made, [], [0] * many, 16)
+            self.assertEqual(caught.exception.most, 2000)
+        film = film_begun(made, [], 16)
+        for number in range(1002):
+            if number in (667, 1001):
+                with self.assertRaises(TooMany) as caught:
+                    film_back(film)
+                self.assertEqual(caught.exception.most, 2000)
+            film = film_on(film, 0)
+
     def test_errors_of_all_back(self):
         made = tally()
         self.assertRaises(BadTree, all_back, None, None, None, None)
