@@ -1,6 +1,7 @@
 """Ghosts: ways that a thread might have gone if a source had been otherwise."""
 
 from firstwrong.errors import TooMany
+from firstwrong.flows import joined
 from firstwrong.momentparts import MOST_FRAMES, SLOTS
 from firstwrong.parts import add_expression, behind
 from firstwrong.sights import way_of
@@ -170,13 +171,13 @@ def gain_all(flow, view, after, source, writes):
             for slot in told:
                 flow.gain(slot, one)
         elif word == "lock":
-            flow.locks[told] = {**flow.locks[told], **one}
+            flow.locks[told] = joined([flow.locks[told], one])
         elif word == "ask":
-            flow.asked = {**flow.asked, **one}
+            flow.asked = joined([flow.asked, one])
         elif word == "give":
-            flow.count = {**flow.count, **one}
+            flow.count = joined([flow.count, one])
             for number in range(len(view.moment.given), len(after.given)):
-                flow.ints[number] = {**flow.ints[number], **one}
+                flow.ints[number] = joined([flow.ints[number], one])
         elif word in ("cell", "cells"):
             gain_in(flow.cells, list(flow.cells) if word == "cells" else [told], one)
         elif word == "local":
@@ -190,7 +191,7 @@ def gain_in(table, spots, one):
     """Those of these spots that are there gain a source."""
     for spot in spots:
         if spot in table:
-            table[spot] = {**table[spot], **one}
+            table[spot] = joined([table[spot], one])
 
 
 def gain_frame(table, thread, depth, one):

@@ -171,7 +171,7 @@ def names_between(program, other):
     """A renaming with which the program becomes the other one; None if there is none."""
     need_program(program)
     need_program(other)
-    found = dict(used_words(program, other))
+    found = used_words(program, other)
     for name, word in left_words(program, other, found):
         found[name] = word
     known = program_names(program)
