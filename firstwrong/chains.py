@@ -2,7 +2,7 @@
 
 from firstwrong.errors import NotNow
 from firstwrong.kinds import is_same
-from firstwrong.sights import look_at, need_sight
+from firstwrong.sights import need_sight, seen
 from firstwrong.sources import both_runs
 from firstwrong.stepviews import StepView
 
@@ -17,7 +17,7 @@ class Pair:
 
     def is_unlike(self, place, sight):
         """Whether both see this unlike at a place."""
-        return look_at(self.ones[place], sight) != look_at(self.twos[place], sight)
+        return seen(self.ones[place], sight) != seen(self.twos[place], sight)
 
     def since(self, place, sight):
         """The least place from which on both see this unlike up to here."""

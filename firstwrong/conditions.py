@@ -61,13 +61,13 @@ def holds(moment, condition):
 class Candidates:
     """Goes from candidate to candidate, forwards or backwards.
 
-    place is the one it is at, None behind the last one; hold tells whether the
+    row is the past, place the one it is at, None behind the last one; hold tells whether the
     condition holds there, and at all places up to the next one; again how many
     deeds were done once more.
     """
 
     def __init__(self, past, place, condition, forwards):
-        self.past = past
+        self.row = past
         self.condition = condition
         self.forwards = forwards
         self.again = 0
@@ -79,14 +79,14 @@ class Candidates:
         self.hold = False
         self.reads = []
         if place is not None:
-            moment, again = moment_of(self.past, place)
+            moment, again = moment_of(self.row, place)
             self.again += again
             self.hold, self.reads = tested(moment, (), self.condition)
 
     def go_further(self):
         """On to the next candidate."""
-        for number in numbers_from(self.past, self.place, self.place - 1, self.forwards):
-            if any([cell in self.reads for cell in self.past.did[number][5]]):
+        for number in numbers_from(self.row, self.place, self.place - 1, self.forwards):
+            if any([cell in self.reads for cell in self.row.did[number][5]]):
                 self.look_at(number + 1 if self.forwards else number)
                 return
         self.look_at(None)

@@ -77,9 +77,7 @@ def known(flow, view, way, expression):
             return None
     found = []
     value = work(view_of(view.moment, stack), found, expression)
-    if value is None or flow.of_worked(view.thread, depth, found) != {}:
-        return None
-    return value
+    return value if flow.of_worked(view.thread, depth, found) == {} else None
 
 
 def needs_frame(expression):

@@ -2,7 +2,7 @@
 
 from firstwrong.errors import BadNumber, BadSight, NotNow
 from firstwrong.kinds import is_number_in, is_same, is_tuple_of
-from firstwrong.sights import is_sight, look_at
+from firstwrong.sights import is_sight, seen
 from firstwrong.steps import run
 from firstwrong.stepviews import StepView, pointers_of
 from firstwrong.spots import block_in
@@ -55,8 +55,8 @@ class Teller:
         """The account of the blocks that are looked at."""
         names = [pointer[:2] for pointer in pointers_of(deed_parts(view))]
         if word == "gone":
-            name = [name for name in names if block_in(view.moment, name[0], name[1]) is None][0]
-            return (("made", self.changed(name, True)), ("gave", self.changed(name, False)))
+            gone = [name for name in names if block_in(view.moment, name[0], name[1]) is None][0]
+            return (("made", self.changed(gone, True)), ("gave", self.changed(gone, False)))
         many = 2 if word == "unlike" else 1
         return tuple([("made", self.changed(name, True)) for name in names[:many]])
 
@@ -110,7 +110,7 @@ def road_of(moment, inputs, weaving, place, sight):
         raise BadNumber("place")
     if not is_spot(moment.program, sight):
         raise BadSight("a local or a cell is wanted")
-    if look_at(moments[place], sight) is None:
+    if seen(moments[place], sight) is None:
         raise NotNow("unset")
     return road_told(moments, traces, weaving, place, sight)
 
@@ -159,11 +159,10 @@ def place_written(view, depth, word):
         return 0 if view.rows != [] else None
     if view.depth == depth - 1 and did == "call":
         program = view.moment.program
-        head = program.functions[program.names.functions[view.does[2]]]
-        words = [row[0] for row in head[1] + head[2]]
-        if word in words:
-            place = words.index(word)
-            return place if place < len(head[1]) else None
+        # Its locals are unset: who sees a value in one meets the step that set it first.
+        params = program.functions[program.names.functions[view.does[2]]][1]
+        words = [param for param, _ in params]
+        return words.index(word) if word in words else ()
     return ()
 
 
@@ -188,6 +187,6 @@ def is_road(moment, inputs, weaving, thing):
     place, sight = thing[0]
     if not is_number_in(place, 0, len(weaving)) or not is_spot(moment.program, sight):
         return False
-    if look_at(moments[place], sight) is None:
+    if seen(moments[place], sight) is None:
         return False
     return is_same(thing, road_told(moments, traces, weaving, place, sight))

@@ -4,7 +4,6 @@ from firstwrong.errors import BadSight
 from firstwrong.kinds import is_count, is_one_of, is_tuple_of
 from firstwrong.moments import need_moment
 from firstwrong.spots import cell_in, is_cell_of, is_local_of, is_thread_of, name_in, plain_cell, value_in
-from firstwrong.steps import run
 from firstwrong.trees import need_program
 
 
@@ -26,15 +25,8 @@ def need_sight(program, sight):
         raise BadSight("a sight of the program is wanted")
 
 
-def seen_at(moment, sight):
-    """What is seen of a moment."""
-    need_moment(moment)
-    need_sight(moment.program, sight)
-    return look_at(moment, sight)
-
-
-def look_at(moment, sight):
-    """The same for what surely is a sight."""
+def seen(moment, sight):
+    """What is seen of what surely is a moment, by what surely is a sight of its program."""
     word = sight[0]
     if word in ("cell", "local"):
         there = cell_in if word == "cell" else value_in
@@ -49,13 +41,13 @@ def look_at(moment, sight):
     return plain_cell(moment, sight)
 
 
+def seen_at(moment, sight):
+    """What is seen of a moment by a sight; both are looked at."""
+    need_moment(moment)
+    need_sight(moment.program, sight)
+    return seen(moment, sight)
+
+
 def way_of(stack):
     """The triples (function, todo, target) of the frames of a stack."""
     return tuple([(function, todo, target) for function, todo, _, _, target in stack])
-
-
-def seen(moment, inputs, weaving, sight):
-    """What is seen of the last moment of a run."""
-    moments, _ = run(moment, inputs, weaving)
-    need_sight(moment.program, sight)
-    return look_at(moments[-1], sight)

@@ -126,6 +126,33 @@ class Flows(unittest.TestCase):
         self.told(made, [2], 3, (local("y"), [asks(0), cell(0)]), (local("a", 0, 2), []), (("name", 0, 2, "n"), []))
         self.told(made, [2], 5, (local("y"), []))
 
+    def test_blocks_of_frames(self):
+        more = (("f", (("a", "int"),), (("r", P),), (("n", "int", 1),), "int", (("let", "r", ("block", "n")), ("store", L("r"), I(2)),
+                                                                              ("return", ("at", L("r"))))),)
+        made = one(("ask", "x", 1, 2), ("make", "p", "int", X), ("call", "y", "f", (I(1),)), ("give", Y), more=more)
+        self.told(made, [2], 4, (local("r", 0, 2), [asks(0)]))
+        self.told(made, [2], 5, (cell(3), [asks(0)]), (cell(2), [asks(0)]), (cell(0), [asks(0), cell(0)]), (cell(1), [cell(1)]))
+        self.told(made, [2], 6, (local("y"), [asks(0)]))
+
+    def test_shapes_to_a_slot(self):
+        made = one(("ask", "x", 1, 2), ("make", "q", "int", I(1)), ("make", "p", "int", X), ("away", L("q")), ("make", "q", "int", I(1)),
+                   ("call", "y", "g", ()), ("call", "y", "f", (I(1),)))
+        self.told(made, [2], 3, (("block", 3, 1), [asks(0)]), (("block", 2, 1), []), (("block", 4, 1), []))
+        self.told(made, [2], 5, (local("q"), []), (("block", 2, 2), []), (("block", 4, 1), [asks(0)]))
+        # A call of a function without blocks: no slot gains.
+        made = one(("ask", "x", 1, 2), ("make", "p", "int", X), ("call", "y", "g", ()), ("call", "y", "f", (I(1),)), ("give", I(1)))
+        self.told(made, [2], 4, (("block", 2, 1), [asks(0)]), (("block", 3, 1), []), (("block", 31, 1), []))
+        self.told(made, [2], 5, (("block", 3, 1), [asks(0)]), (("block", 31, 1), [asks(0)]))
+
+    def test_make_hangs_on_all_slots_if_none_is_free(self):
+        made = one(("ask", "x", 1, 2), ("make", "p", "int", X), ("make", "q", "int", I(1)))
+        start = begun(made)
+        memory = {**start.memory, **{slot: ("made", "int", (1,)) for slot in range(2, 31)}}
+        full = Moment(made, [1] * 31 + [0], memory, (None,), start.stacks, 0, (), None)
+        self.assertEqual(causes_of(full, [1], [0, 0], local("p")), ())
+        self.assertEqual(causes_of(full, [1], [0, 0, 0], local("q")), (asks(0),))
+        self.assertEqual(run(full, [1], [0, 0, 0])[0][-1].stacks[0][0][2][3], NULL)
+
     def test_names_hang_on_the_slots(self):
         made = one(("ask", "x", 1, 2), ("make", "p", "int", X), ("call", "y", "f", (I(1),)), ("give", I(1)))
         self.told(made, [2], 3, (("name", 0, 2, "n"), [asks(0)]), (("block", 3, 1), [asks(0)]), (("block", 5, 1), [asks(0)]),
@@ -207,6 +234,16 @@ class GhostsByHand(unittest.TestCase):
         made = split((("call", "y", "f", (I(1),)),), ("let", "x", I(3)), otherwise=(("call", "y", "f", (I(2),)),))
         self.told(made, 3, (local("a", 0, 2), [asks(0)]), (local("b", 0, 2), [asks(0)]), (("name", 0, 2, "n"), [asks(0)]))
         self.told(made, 4, (local("y"), [asks(0), ]), (("way", 0), []))
+
+    def test_targets_of_ways_not_gone(self):
+        # The other way calls f, which returns to y; then both ways are one again.
+        made = split((("call", "y", "f", (I(1),)),), ("give", I(5)), otherwise=(("let", "x", I(2)), ("let", "x", I(3))))
+        self.told(made, 4, (("way", 0), []), (local("y"), [asks(0), local("y")]), (local("q"), [local("q")]), (("block", 2, 1), [asks(0)]))
+        # The same with a todo that is (), and with a call of no local.
+        made = split((("call", "y", "g", ()),), ("give", I(5)), otherwise=(("let", "x", I(2)), ("let", "x", I(3))))
+        self.told(made, 4, (("way", 0), []), (local("y"), [asks(0), local("y")]), (("block", 2, 1), []))
+        made = split((("call", "", "g", ()),), ("give", I(5)), otherwise=(("let", "x", I(2)), ("let", "x", I(3))))
+        self.told(made, 4, (("way", 0), []), (local("y"), [local("y")]))
 
     def test_return_not_gone(self):
         # g's way not gone returns into y; the way gone goes on in g.
@@ -383,6 +420,13 @@ class WrongByHand(unittest.TestCase):
         self.told(one(("ask", "x", 0, 1), ("make", "p", "int", I(1)), ("away", Q), ("if", X, (("make", "q", "int", I(1)),), ()), ("away", Q)),
                   [0], 5, [asks(0)], "gone")
         self.told(program((("call", "", "main", ()),)), [], 12, [], "deep")
+
+    def test_shapes_of_what_is_written_or_given_back(self):
+        ahead = (("ask", "x", 1, 2), ("make", "p", "int", X), ("away", Q))
+        self.told(one(*ahead, ("away", Q)), [1], 4, [asks(0)], "gone")
+        self.told(one(*ahead, ("store", Q, I(1))), [1], 4, [asks(0)], "gone")
+        # Not that of a pointer which is stored.
+        self.told(one(*ahead, ("store", ("null", P), Q), more=()), [1], 4, [], "null")
 
     def test_shapes_of_what_is_looked_at(self):
         # The block of p hangs on input 0 by its number of cells.

@@ -205,7 +205,8 @@ class Attributes(unittest.TestCase):
                     attributes.add(node.attr)
                     # Attributes are assigned through a local name.
                     self.assertIsInstance(node.value, ast.Name, name)
-        self.assertEqual(methods & attributes, set())
+        # Those that the interface lists as both, of unlike classes.
+        self.assertLessEqual(methods & attributes, {"moment", "told"})
         values = {word for kind in (str, int, list, dict, set, bytes) for word in dir(kind)}
         self.assertEqual({word for word in methods & values if not word.startswith("__")}, set())
         self.assertLessEqual(attributes & values, {"count"})
@@ -270,7 +271,7 @@ plans.times_done steps pictures plan; plans.back_plan steps pictures; examples.t
 examples.spill_text;
 records.record_bytes kind payload; records.records_of thing; renames.program_names program; renames.renamed program names;
 renames.renamed_moment program moment names; renames.names_back program names; renames.names_between program other;
-shapes.shape_of moment; shapes.is_young moment; sights.is_sight program thing; sights.seen_at moment sight;
+shapes.shape_of moment; shapes.is_young moment; sights.is_sight program thing; sights.seen moment sight; sights.seen_at moment sight;
 sources.sources_of moment inputs weaving; sources.unlike_sources moment inputs weaving other others;
 chains.is_chain moment inputs weaving other others sight thing; chains.chain_of moment inputs weaving other others sight;
 causes.causes_of moment inputs weaving sight; causes.wrong_causes moment inputs weaving; causes.is_copying program;

@@ -130,6 +130,19 @@ class LeastWrong(unittest.TestCase):
         self.assertIsNone(least_wrong(begun(made), values[:4], 17))
         self.assertRaises(TooMany, least_wrong, begun(made), values[:4], 18)
 
+    def test_2048_shapes_and_2049(self):
+        rows = tuple((word, "int") for word in "abcd")
+        last = ("and", ("and", ("same", L("a"), I(7)), ("same", L("b"), I(7))), ("same", L("c"), I(7)))
+        for high, fine in ((3, True), (4, False)):
+            made = begun(program((("ask", "a", 0, 7), ("ask", "b", 0, 7), ("ask", "c", 0, 7),
+                                  ("if", last, (("ask", "d", 0, high),), (("ask", "d", 0, 3),))), rows))
+            # Of 512 ways 511 have four more each, the last one as many as high lets.
+            if fine:
+                self.assertIsNone(least_wrong(made, list(range(8)), 5))
+            else:
+                self.assertIsNone(least_wrong(made, list(range(8)), 4))
+                self.assertRaises(TooMany, least_wrong, made, list(range(8)), 5)
+
     def test_too_many_at_the_steps_of_the_answer(self):
         words = "wxyz"
         asks = tuple(("ask", word, 0, 7) for word in words)
@@ -303,17 +316,18 @@ class Closed(unittest.TestCase):
         ahead = begun(wrong.program)
         self.assertFalse(is_closed(ahead, [], (shape_of(ahead),)))
 
-    def count_up(self, most, wrong=False):
-        """A counter that goes up to a number, and then stands still or goes wrong: two shapes for each number."""
+    def count_up(self, most, wrong=False, more=()):
+        """A counter that goes up to a number, and then does more, ends or goes wrong: two shapes for each number."""
         body = (("let", "x", I(0)), ("while", ("below", L("x"), I(most)), (("let", "x", ("sum", L("x"), I(1))),)))
-        return begun(program(body + ((("give", ("share", I(1), I(0))),) if wrong else ()), (("x", "int"),)))
+        return begun(program(body + more + ((("give", ("share", I(1), I(0))),) if wrong else ()), (("x", "int"),)))
 
     def test_4096_shapes(self):
         # Behind the beginning: "while" and "let" for each number below most, "while" for most, its end, and no frame.
         self.assertEqual(len(closed_shapes(self.count_up(10), [])), 1 + 2 * 10 + 1 + 1 + 1)
         self.assertEqual(len(closed_shapes(self.count_up(2046), [])), 4096)
+        # One shape more.
         with self.assertRaises(TooMany) as caught:
-            closed_shapes(self.count_up(2047), [])
+            closed_shapes(self.count_up(2046, more=(("give", I(1)),)), [])
         self.assertEqual(caught.exception.most, 4096)
         self.assertRaises(TooMany, stuck_shapes, self.count_up(2047), [])
         # The wrong one counts ahead of it: with 4096 ahead it is told, with more it is not.

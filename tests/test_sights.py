@@ -59,7 +59,8 @@ class Sights(unittest.TestCase):
                             (("name", 0, 1, "x"), None), (("name", 1, 2, "n"), None),
                             (("way", 0), ((0, body[3:], ""), (1, made.functions[1][5], "x"))), (("way", 1), ((0, body, ""),))):
             self.assertEqual(seen_at(moment, sight), told, sight)
-            self.assertEqual(seen(begun(made), [5], [0, 0, 0], sight), told)
+            self.assertEqual(seen(moment, sight), told)
+            self.assertEqual(seen(moment=moment, sight=sight), told)
 
     def test_given_and_wrong(self):
         made = program((("give", I(4)), ("give", I(9)), ("leave", "k")), locks=("k",))
@@ -76,11 +77,6 @@ class Sights(unittest.TestCase):
             self.assertIsNone(caught.exception.part)
         for sight in (None, ("lock", "z"), ["free"], ("local", 2, 1, "x")):
             self.assertRaises(BadSight, seen_at, moment, sight)
-            self.assertRaises(BadSight, seen, moment, [], [], sight)
-        self.assertRaises(BadMoment, seen, None, None, None, None)
-        self.assertRaises(BadInputs, seen, moment, None, None, None)
-        self.assertRaises(BadNumber, seen, moment, [], [2], None)
-        self.assertRaises(NotNow, seen, begun(made), [], [0, 0], None)
 
 
 class Sources(unittest.TestCase):

@@ -129,6 +129,10 @@ class ThinPlan(unittest.TestCase):
                 thin_plan(steps, pictures)
             self.assertEqual(caught.exception.most, 2000)
         self.assertEqual((repeats(666, 16) * 666, repeats(667, 16) * 667), (1998, 2001))
+        # Just 2000, and one step more.
+        self.assertEqual((repeats(500, 10), repeats(501, 10)), (4, 4))
+        self.assertTrue(is_plan(500, 10, thin_plan(500, 10)))
+        self.assertRaises(TooMany, thin_plan, 501, 10)
 
 
 def endless():
