@@ -10,7 +10,7 @@ ALONE = ("free", "asked", "given", "wrong")
 
 def is_cell_of(program, thing):
     """Whether any value is a cell of a program, ("wrong",) among them."""
-    if not isinstance(thing, tuple) or thing == ():
+    if not isinstance(thing, tuple):
         return False
     if len(thing) == 1:
         return is_one_of(thing[0], ALONE)

@@ -45,7 +45,7 @@ class Cells(unittest.TestCase):
     def test_what_is_none(self):
         made, _ = setting()
         for thing in (None, 5, "free", (), ["free"], ("cell", 32, 1, 0), ("cell", 0, 0, 0), ("cell", 0, 2 ** 30 + 1, 0), ("cell", 0, 1, 16), ("cell", True, 1, 0),
-                      ("cell", 0, 1), ("block", 32, 1), ("block", 0, 2 ** 30 + 1), ("block", 0, False), ("block", 0, 1, 0), ("free", 0), ("lock", "m"), ("lock",), ("lock", "k", "k"), ("block", 0, 1, 0, 0), ("cell", 0, 1, 0, 0), (["free"],), ("wrong", 0),
+                      ("cell", 0, 1), ("block", 32, 1), ("block", 0, 2 ** 30 + 1), ("block", 0, False), ("block", 0, 1, 0), ("free", 0), ("lock", "m"), ("lock",), ("lock", "k", "k"), ("key", "k"), (None, "k"), ("cells", 0, 1, 0), ("blocks", 0, 1), ("block", 0, 1, 0, 0), ("cell", 0, 1, 0, 0), (["free"],), ("wrong", 0),
                       ("lock", 0), ("given", 0), ("way", 0), ("name", 0, 1, "n"), ("local", 2, 1, "x"), ("local", 0, 0, "x"), ("local", 0, 13, "x"),
                       ("local", 0, 1, "X"), ("local", True, 1, "x"), ("local", 0, 1), (None,), ((),)):
             self.assertFalse(is_cell(made, thing), thing)

@@ -58,7 +58,7 @@ class Names(unittest.TestCase):
         moment = begun(made)
         for thing in (None, tree_of(made), 5):
             for call in (lambda: program_names(thing), lambda: renamed(thing, 5), lambda: names_back(thing, 5),
-                         lambda: names_between(thing, 5), lambda: names_between(made, thing),
+                         lambda: names_between(thing, 5), lambda: names_between(thing, made), lambda: names_between(made, thing),
                          lambda: renamed_moment(thing, 5, 5)):
                 with self.assertRaises(BadTree) as caught:
                     call()

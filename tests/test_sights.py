@@ -35,7 +35,7 @@ class Sights(unittest.TestCase):
         for thing in (None, 5, (), [], "free", ["free"], ("cell", 32, 1, 0), ("cell", -1, 1, 0), ("cell", 0, 0, 0),
                       ("cell", 0, 2 ** 30 + 1, 0), ("cell", 0, 1, 16), ("cell", 0, 1, -1), ("cell", True, 1, 0), ("cell", 0, True, 0),
                       ("cell", 0, 1, False), ("cell", 0, 1), ("block", 32, 1), ("block", 0, 0), ("block", 0, 1, 0), ("free", 1),
-                      ("lock", "m"), ("lock", 0), ("lock",), ("lock", "k", "k"), ("block", 0, 1, 0, 0), ("cell", 0, 1, 0, 0), (["free"],), ("asked", 0), ("given", -1), ("given", True), ("given", None),
+                      ("lock", "m"), ("lock", 0), ("lock",), ("lock", "k", "k"), ("key", "k"), (None, "k"), ("cells", 0, 1, 0), ("blocks", 0, 1), ("block", 0, 1, 0, 0), ("cell", 0, 1, 0, 0), (["free"],), ("asked", 0), ("given", -1), ("given", True), ("given", None),
                       ("given", 0, 0), ("wrong", 0), ("local", 2, 1, "x"), ("local", -1, 1, "x"), ("local", 0, 0, "x"),
                       ("local", 0, 13, "x"), ("local", 0, 1, "X"), ("local", 0, 1, ""), ("local", 0, 1), ("local", True, 1, "x"),
                       ("local", 0, True, "x"), ("name", 0, 13, "m"), ("way", 2), ("way", True), ("way",), ("way", 0, 0),
