@@ -50,21 +50,29 @@ def least_wrong(start, values, many):
         raise BadNumber("many")
     row = [((), shape_of(start))]
     for _ in range(many):
-        met = set()
-        further = []
-        for turns, shape in row:
-            for turn, after in turns_on(shape, values):
-                if after.wrong is not None:
-                    return turns + (turn,)
-                reached = shape_of(after)
-                key = moment_bytes(reached)
-                if key not in met:
-                    met.add(key)
-                    further.append((turns + (turn,), reached))
-        if len(further) > MOST_WIDE:
+        wrong, row = row_behind(row, values)
+        if wrong is not None:
+            return wrong
+        if len(row) > MOST_WIDE:
             raise TooMany(MOST_WIDE)
-        row = further
     return None
+
+
+def row_behind(row, values):
+    """The least turns by which a step behind these goes wrong (or None), and the pairs of
+    turns and shapes one step further: each shape once, with the least turns that lead there."""
+    met = set()
+    further = []
+    for turns, shape in row:
+        for turn, after in turns_on(shape, values):
+            if after.wrong is not None:
+                return (turns + (turn,), [])
+            reached = shape_of(after)
+            key = moment_bytes(reached)
+            if key not in met:
+                met.add(key)
+                further.append((turns + (turn,), reached))
+    return (None, further)
 
 
 def is_turn(thing):
