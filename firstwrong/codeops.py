@@ -44,28 +44,34 @@ def checks_ahead(word, sort):
     return [("check", told) for told in words]
 
 
-def expression_ops(names, number, expression):
-    """The ops of an expression, with all checks."""
+def expression_pairs(names, number, expression):
+    """The ops of an expression, with all checks; each beside the expression of which it is."""
     word = expression[0]
     if word in LEAVES:
-        return [expression, UNSET] if word == "local" else [expression]
-    ops = expression_ops(names, number, expression[1])
+        return [(op, expression) for op in ([expression, UNSET] if word == "local" else [expression])]
+    pairs = expression_pairs(names, number, expression[1])
     if word in ("and", "or"):
-        second = expression_ops(names, number, expression[2])
-        return ops + [(word, len(second))] + second + [("truth",)]
+        second = expression_pairs(names, number, expression[2])
+        return pairs + [((word, len(second)), expression)] + second + [(("truth",), expression)]
     if len(expression) == 3:
-        ops = ops + expression_ops(names, number, expression[2])
+        pairs = pairs + expression_pairs(names, number, expression[2])
     sort = sort_of(names, number, expression[1])
     own = (word, sort) if word in OF_INTS else (word,)
-    return ops + checks_ahead(word, sort) + [own] + ([UNSET] if word == "at" else [])
+    ops = checks_ahead(word, sort) + [own] + ([UNSET] if word == "at" else [])
+    return pairs + [(op, expression) for op in ops]
+
+
+def instruction_pairs(names, number, instruction):
+    """The ops of an instruction of a function, with all checks; each beside the piece of which it is."""
+    pairs = []
+    for expression in expressions_of(instruction):
+        pairs = pairs + expression_pairs(names, number, expression)
+    return pairs + [(op, instruction) for op in checks_ahead(instruction[0], None) + [own_op(instruction)]]
 
 
 def instruction_ops(names, number, instruction):
     """The ops of an instruction of a function, with all checks."""
-    ops = []
-    for expression in expressions_of(instruction):
-        ops = ops + expression_ops(names, number, expression)
-    return ops + checks_ahead(instruction[0], None) + [own_op(instruction)]
+    return [op for op, _ in instruction_pairs(names, number, instruction)]
 
 
 def kept_ops(ops, kept):

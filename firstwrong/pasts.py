@@ -11,23 +11,38 @@ from firstwrong.turns import need_thread, why_not
 MOST_EACH = 256
 
 
+class Grown:
+    """A story that begins as that of a past: what is shared is not done again.
+
+    place tells how many deeds, entries how many entries are shared; moment is the
+    one behind them, which nothing looks at if there are no more entries.
+    """
+
+    def __init__(self, story, base, place, entries, moment):
+        self.story = story
+        self.base = base
+        self.place = place
+        self.entries = entries
+        self.moment = moment
+
+
 class Past:
     """The deeds of a story from a start on.
 
     kept has the moments whose places are multiples of each; did tells each
     deed as deed_at does, entries its place in the course; gifts are the ints
     given, heights and waiting tell of each place how many frames each thread
-    has, and which threads are held.
+    has, and which threads are held; wants leads from inputs to the entry that
+    first wants them and how many deeds are ahead of it.
     """
 
     def __init__(self, start, story, each):
         need_moment(start)
-        if not is_story(start.program, story):
+        if not isinstance(story, Grown) and not is_story(start.program, story):
             raise BadStory("a story of the start's program is wanted")
         if not is_number_in(each, 1, MOST_EACH):
             raise BadNumber("each")
         self.start = start
-        self.story = story
         self.each = each
         self.program = start.program
         self.kept = {}
@@ -36,8 +51,17 @@ class Past:
         self.gifts = []
         self.heights = []
         self.waiting = []
+        self.wants = {}
         self.wrong = None
-        self.idle = self.do_all()
+        self.idle = ()
+        if isinstance(story, Grown):
+            self.story = story.story
+            self.take_over(story.base, story.place, story.entries)
+            self.do_all(story.moment, story.entries)
+        else:
+            self.story = story
+            self.keep(start)
+            self.do_all(start, 0)
         self.length = len(self.did)
 
     def __eq__(self, other):
@@ -45,23 +69,41 @@ class Past:
             return False
         return self.start == other.start and self.story == other.story and self.each == other.each
 
-    def do_all(self):
-        """Does the entries; those that are idle are told."""
+    def take_over(self, base, first, entries):
+        """What a past tells of its first deeds, which so many entries do."""
+        self.kept = {place: base.kept[place] for place in base.kept if place <= first}
+        self.did = base.did[:first]
+        self.entries = base.entries[:first]
+        self.gifts = [gift for gift in base.gifts if gift[0] < first]
+        self.heights = base.heights[:first + 1]
+        self.waiting = base.waiting[:first + 1]
+        self.wants = {number: base.wants[number] for number in base.wants if base.wants[number][0] < entries}
+        if base.wrong is not None and base.wrong[0] < first:
+            self.wrong = base.wrong
+        self.idle = tuple([number for number in base.idle if number < entries])
+
+    def do_all(self, moment, first):
+        """Does the entries from one on; those that are idle are told."""
         inputs, course = self.story
-        idle = []
-        moment = self.start
-        self.keep(moment)
-        for number, entry in enumerate(course):
+        for number in range(first, len(course)):
+            entry = course[number]
+            self.look_for_wants(moment, number, entry)
             done = done_entry(moment, inputs, entry)
             if done is None:
-                idle.append(number)
+                self.idle = self.idle + (number,)
                 continue
             after, trace = done
             self.entries.append(number)
             self.add_deed(moment, entry, after, trace)
             moment = after
             self.keep(moment)
-        return tuple(idle)
+
+    def look_for_wants(self, moment, number, entry):
+        """Which input an entry wants, be there one or not."""
+        if isinstance(entry, tuple) or why_not(self.program.names, moment, entry, todo_op) is not None:
+            return
+        if todo_op(moment, entry)[0] == "ask" and moment.asked not in self.wants:
+            self.wants[moment.asked] = (number, len(self.did))
 
     def keep(self, moment):
         """What is kept of the moment behind the deeds till now."""
@@ -148,6 +190,21 @@ def deed_at(past, place):
     return past.did[place]
 
 
+def entries_ahead(past, place):
+    """How many entries stand ahead of that of a deed; all at the end."""
+    return past.entries[place] if place < past.length else len(past.story[1])
+
+
+def grown_past(past, place, entries, story):
+    """The past of a story that begins with so many entries of a past, by which its deeds up to
+    a place are done; and how many deeds were done once more for it."""
+    moment, again = (None, 0)
+    if entries < len(story[1]):
+        moment, again = moment_of(past, place)
+    found = Past(past.start, Grown(story, past, place, entries, moment), past.each)
+    return (found, again + found.length - place)
+
+
 def cut_past(past, place):
     """The past of the first deeds alone."""
     need_past(past)
@@ -161,7 +218,7 @@ def rest_past(past, place):
     need_past(past)
     need_place(past, place)
     inputs, course = past.story
-    rest = course[past.entries[place]:] if place < past.length else ()
+    rest = course[entries_ahead(past, place):]
     return Past(moment_of(past, place)[0], (inputs, rest), past.each)
 
 

@@ -45,30 +45,39 @@ def int_of(row):
 class LogReader:
     """Takes records as long as they are a log of a run.
 
-    moments are those reached, none without a head; spoken how many of the given
-    ints were told outside.
+    moment is the one reached, None without a head; records are those taken, each
+    behind the number of steps ahead of its end; spoken tells how many of the
+    given ints were told outside.
     """
 
     def __init__(self, program):
         self.program = program
-        self.moments = []
+        self.moment = None
+        self.records = []
         self.steps = []
         self.inputs = []
         self.spoken = 0
 
     def take_record(self, kind, payload):
         """Takes the next record; whether it fits there."""
-        if self.moments == []:
+        if not self.is_next(kind, payload):
+            return False
+        self.records.append((len(self.steps), kind, payload))
+        return True
+
+    def is_next(self, kind, payload):
+        """Does what the next record tells; whether it fits there."""
+        if self.moment is None:
             if kind != HEAD or payload != head_bytes(self.program):
                 return False
-            self.moments.append(begun(self.program))
+            self.moment = begun(self.program)
             return True
         if kind == STEP:
             return self.take_step(payload)
         if kind == PICTURE:
-            return payload == moment_bytes(self.moments[-1])
+            return payload == moment_bytes(self.moment)
         if kind == MARK:
-            return payload == mark_bytes(self.moments[-1])
+            return payload == mark_bytes(self.moment)
         return kind == TOLD and self.take_told(payload)
 
     def take_step(self, payload):
@@ -78,19 +87,19 @@ class LogReader:
         told = int_of(payload[1:]) if len(payload) == 5 else None
         inputs = self.inputs if told is None else self.inputs + [told]
         try:
-            after, _ = step_of(self.moments[-1], payload[0], inputs)
+            after, _ = step_of(self.moment, payload[0], inputs)
         except (NotNow, BadInputs):
             return False
         if after.asked != len(inputs):
             return False
         self.inputs = inputs
-        self.moments.append(after)
+        self.moment = after
         self.steps.append((payload[0], told))
         return True
 
     def take_told(self, payload):
         """Takes what tells how many ints were told."""
-        if len(payload) != 4 or not self.spoken <= number_of(payload) <= len(self.moments[-1].given):
+        if len(payload) != 4 or not self.spoken <= number_of(payload) <= len(self.moment.given):
             return False
         self.spoken = number_of(payload)
         return True
@@ -119,7 +128,10 @@ def read_log(program, thing):
 def logged(program, thing):
     """All moments of the run that a log tells."""
     need_program(program)
-    return log_read(program, thing)[0].moments
+    reader, good, _ = log_read(program, thing)
+    if good == 0:
+        return []
+    return run(begun(program), reader.inputs, [thread for thread, _ in reader.steps])[0]
 
 
 def log_bytes(program, inputs, weaving):

@@ -75,7 +75,17 @@ def stopping_places(past, stop):
     """The ascending list of the places at which a stop stops."""
     need_past(past)
     need_stop(past, stop)
-    moments = all_moments(past)
+    return places_told(past, stop, all_moments(past))
+
+
+def places_of_all(past, stops):
+    """The ascending list of the places at which one of these stops stops."""
+    moments = all_moments(past) if stops != [] else []
+    return sorted(set([place for stop in stops for place in places_told(past, stop, moments)]))
+
+
+def places_told(past, stop, moments):
+    """The places at which a stop stops, by all moments of the past."""
     if stop[0] == "at":
         return [number for number in range(past.length)
                 if is_deed_of(past, number, stop) and stops_at(past, number, stop, moments[number])]
