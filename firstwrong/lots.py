@@ -151,6 +151,8 @@ class Worker:
         sort = sort_made(word, parts[0][0])
         if {} in [lot for _, lot in parts]:
             return (sort, {})
+        if word in RANGES:
+            return (sort, bands_made(self, word, parts))
         deed = DEEDS[word]
         return (sort, deed(self, parts))
 
@@ -219,44 +221,20 @@ def do_on(worker, parts):
     return found
 
 
-def do_sum(worker, parts):
-    """The bands of all sums."""
-    return bands_made(worker, parts, range_of_sum)
-
-
-def do_less(worker, parts):
-    """The bands of all differences."""
-    return bands_made(worker, parts, range_of_less)
-
-
-def do_times(worker, parts):
-    """The bands of all products."""
-    return bands_made(worker, parts, range_of_times)
-
-
-def do_share(worker, parts):
-    """The bands of all quotients."""
-    return bands_made(worker, parts, range_of_share)
-
-
-def do_rest(worker, parts):
-    """The bands of all rests."""
-    return bands_made(worker, parts, range_of_rest)
-
-
-def bands_made(worker, parts, range_made):
+def bands_made(worker, word, parts):
     """The bands of the ranges that come of those of two parts."""
     found = {}
-    for low, high in ranges_made(worker, parts, range_made):
+    for low, high in ranges_made(worker, word, parts):
         join(found, worker.bands.of_sort(parts[0][0], low, high))
     return found
 
 
-def ranges_made(worker, parts, range_made):
+def ranges_made(worker, word, parts):
     """The ranges that come of those of two parts; of "share" and "rest" one for second parts below 0,
     and one for those above."""
+    range_made = RANGES[word]
     first = span_of(worker, parts[0])
-    if range_made not in (range_of_share, range_of_rest):
+    if word not in ("share", "rest"):
         return [range_made(first, span_of(worker, parts[1]))]
     bits = parts[1][1][BAND]
     bands = worker.bands
@@ -295,7 +273,8 @@ def range_of_rest(first, second):
     return (max(least + 1, low) if high <= 0 else least + 1, 0)
 
 
-RANGES = {"sum": range_of_sum, "less": range_of_less, "times": range_of_times, "share": range_of_share}
+RANGES = {"sum": range_of_sum, "less": range_of_less, "times": range_of_times, "share": range_of_share,
+          "rest": range_of_rest}
 
 
 def do_wide(worker, parts):
@@ -384,6 +363,5 @@ def is_one_bit(bits):
     return bits & (bits - 1) == 0
 
 
-DEEDS = {"at": do_at, "on": do_on, "gap": do_gap, "same": do_same, "below": do_below, "sum": do_sum,
-         "less": do_less, "times": do_times, "share": do_share, "rest": do_rest, "wide": do_wide,
+DEEDS = {"at": do_at, "on": do_on, "gap": do_gap, "same": do_same, "below": do_below, "wide": do_wide,
          "low": do_low, "not": do_not}

@@ -38,15 +38,17 @@ def is_told(program, form, thing):
         return is_int(thing)
     if form == "word":
         return is_word(thing)
-    if form == "course":
-        if not isinstance(thing, tuple) or len(thing) > MOST_ENTRIES:
-            return False
-        return all([is_entry(program, entry) for entry in thing])
-    judge = JUDGES[form]
-    return judge(program, thing)
-
-
-JUDGES = {"thread": is_thread_of, "stop": is_stop_of, "look": is_look_of, "edit": is_edit_of}
+    if form == "thread":
+        return is_thread_of(program, thing)
+    if form == "stop":
+        return is_stop_of(program, thing)
+    if form == "look":
+        return is_look_of(program, thing)
+    if form == "edit":
+        return is_edit_of(program, thing)
+    if not isinstance(thing, tuple) or len(thing) > MOST_ENTRIES:
+        return False
+    return all([is_entry(program, entry) for entry in thing])
 
 
 class Session:

@@ -7,8 +7,7 @@ from firstwrong.codeops import instruction_pairs, is_check
 from firstwrong.codes import kept_of, need_code, without
 from firstwrong.errors import BadChart
 from firstwrong.kinds import is_int
-from firstwrong.lots import (BAND, NULL, RANGES, UNSET, Grounds, Worker, are_one, inside, places_in, ranges_made,
-                             span_of)
+from firstwrong.lots import BAND, NULL, UNSET, Grounds, Worker, are_one, inside, places_in, ranges_made, span_of
 from firstwrong.parts import expressions_of
 
 
@@ -129,7 +128,7 @@ def needs_great(judge, piece, parts):
         return any([not (1 <= low and high <= 16) for place, (low, high) in enumerate(bands.rows) if bits >> place & 1])
     if {} in [lot for _, lot in parts]:
         return False
-    ranges = ranges_made(judge.worker, parts, RANGES[piece[0]])
+    ranges = ranges_made(judge.worker, piece[0], parts)
     return any([not is_int(low) or not is_int(high) for low, high in ranges])
 
 

@@ -295,6 +295,11 @@ def sorter():
     return program(body, tuple((w, "int") for w in ("spot", "here", "many", "value")) + (("row", ("to", "int")),))
 
 
+def giving():
+    """Gives 5 and -1."""
+    return program((("give", I(5)), ("give", I(-1))))
+
+
 def read_of(expression, local, sort, *setting):
     """A program whose last statement works out an expression by which it may go wrong."""
     return program(setting + (("let", local, expression),),

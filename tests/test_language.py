@@ -237,7 +237,19 @@ over_back frames_of; cells: is_cell cell_value is_look shown writes_of last_set 
 conditions: is_condition holds first_moment last_moment spans; searches: least_wrong story_of closed_shapes is_closed
 stuck_shapes; stops: is_stop stopping_places next_stop last_stop; thinning: kept_places first_way thin_plan;
 films: film_begun film_on film_at film_back all_back; programtexts: text_of program_of_text wrong_lines mended
-statement_lines; runlogs: read_log logged log_bytes"""
+statement_lines; runlogs: read_log logged log_bytes; cuts: pictures_in seek beginning_of thinned fault_in good_part
+wrong_in; pens: Pen fallen; traits: bands_of sites_of; closings: is_closed_chart chart_of; sparing: needless spared;
+weavings: names_of meetings clocks must_be_ahead; ledgers: is_ledger keeps_ledger Recorder least_ledger run_ledger
+lets_in is_lean_ledger leaned_ledger; counting: how_many least_weaving next_weaving weaving_at place_of;
+following: free_threads followed; watchers: Watcher verdict; races: order_clocks order_ledger races first_race both_ways;
+whatif: deeds_part parting with_input with_course with_edit reach_of_edit without_deed lean_past;
+sessions: is_deed Session; branches: parents_of alike_up_to partings;
+terms: is_term term_text term_of_text deed_text deed_of_text; journals: journal taken_up trimmed;
+ways: least_way distances; desk: Desk; wronglines: wrong_line"""
+METHODS_LISTED = {"disks.Disk": "take_pen write make_sure cut fall found twin", "pens.Pen": "acts do",
+                  "ledgers.Recorder": "seen ledger", "watchers.Watcher": "seen",
+                  "sessions.Session": "do undo redo deeds undone past branches stops looks marks moment told",
+                  "desk.Desk": "say"}
 
 
 class Interface(unittest.TestCase):
@@ -247,6 +259,41 @@ class Interface(unittest.TestCase):
             tree = ast.parse(read(module.strip() + ".py"))
             defined = {n.name for n in tree.body if isinstance(n, (ast.FunctionDef, ast.ClassDef))}
             self.assertEqual(set(names.split()) - defined, set(), module)
+
+    def test_the_whole_list(self):
+        """All that the document lists is here."""
+        shared = os.path.join(os.path.dirname(os.path.dirname(HERE)), "shared", "DOC.md")
+        if not os.path.exists(shared):
+            self.skipTest("the document is not there")
+        with open(shared, encoding="utf-8") as file:
+            rows = re.findall(r"^- firstwrong/(\w+)\.py: (.*)$", file.read(), re.M)
+        here = {part.split(":")[0].strip(): set(part.split(":")[1].split()) for part in INTERFACE.split(";")}
+        for module, names in rows:
+            listed = set(re.findall(r"\w+", re.sub(r"\([^)]*\)|, and directly below it, with their attributes", "", names)))
+            self.assertEqual(here[module], listed, module)
+        self.assertEqual(len(rows), len(here))
+
+    def test_errors_lie_directly_below_one(self):
+        errors = importlib.import_module("firstwrong.errors")
+        names = [name for name in INTERFACE.split(";")[0].split(":")[1].split() if name != "WrongError"]
+        self.assertEqual(errors.WrongError.__bases__, (ValueError,))
+        for name in names:
+            self.assertEqual(getattr(errors, name).__bases__, (errors.WrongError,))
+        for name, attributes in (("BadBytes", "at"), ("BadCode", "at"), ("BadLayout", "part"), ("BadLine", "number"), ("BadLog", "at"), ("BadMoment", "part"),
+                                 ("BadNames", "key"), ("BadNumber", "part"), ("BadPast", "part"), ("BadText", "line reason"), ("BadTree", "at"), ("Lost", "word"),
+                                 ("NotNow", "why"), ("TooMany", "most")):
+            told = [object() for _ in attributes.split()]
+            error = getattr(errors, name)(*told)
+            self.assertEqual([getattr(error, word) for word in attributes.split()], told)
+            names.remove(name)
+        for name in names:
+            self.assertEqual(str(getattr(errors, name)("a message")), "a message")
+
+    def test_methods_stand_in_their_classes(self):
+        for path, names in METHODS_LISTED.items():
+            module, name = path.split(".")
+            found = getattr(importlib.import_module("firstwrong." + module), name)
+            self.assertEqual(set(names.split()) - set(vars(found)), set(), path)
 
 
 SIGNATURES = """values.is_sort thing; values.is_value sort thing; rows.four_bytes number; rows.mark_of thing;
@@ -294,23 +341,44 @@ thinning.kept_places steps pictures; thinning.first_way steps pictures; thinning
 films.film_begun program inputs pictures; films.film_on film thread; films.film_at film place; films.film_back film;
 films.all_back program inputs weaving pictures; programtexts.text_of program; programtexts.program_of_text text;
 programtexts.wrong_lines text; programtexts.mended text; programtexts.statement_lines text;
-runlogs.read_log program thing; runlogs.logged program thing; runlogs.log_bytes program inputs weaving"""
+runlogs.read_log program thing; runlogs.logged program thing; runlogs.log_bytes program inputs weaving;
+cuts.pictures_in program thing; cuts.seek program thing number; cuts.beginning_of program thing number;
+cuts.thinned program thing spots; cuts.fault_in program thing; cuts.good_part program thing; cuts.wrong_in program thing;
+pens.Pen program disk; pens.Pen.acts self deed; pens.Pen.do self deed; pens.fallen pen deed many kept;
+traits.bands_of code; traits.sites_of code; closings.is_closed_chart code thing; closings.chart_of code;
+sparing.needless code chart; sparing.spared code chart; weavings.names_of weaving; weavings.meetings weaving traces;
+weavings.clocks weaving traces; weavings.must_be_ahead weaving traces one other; ledgers.is_ledger thing;
+ledgers.keeps_ledger ledger weaving; ledgers.Recorder; ledgers.Recorder.seen self thread trace;
+ledgers.Recorder.ledger self; ledgers.least_ledger weaving traces; ledgers.run_ledger moment inputs weaving;
+ledgers.lets_in ledger entry; ledgers.is_lean_ledger ledger; ledgers.leaned_ledger ledger; counting.how_many ledger;
+counting.least_weaving ledger; counting.next_weaving ledger weaving; counting.weaving_at ledger number;
+counting.place_of ledger weaving; following.free_threads ledger done; following.followed moment inputs ledger choices;
+watchers.Watcher; watchers.Watcher.seen self thread trace; watchers.verdict moment inputs weaving;
+races.order_clocks weaving traces; races.order_ledger weaving traces; races.races weaving traces;
+races.first_race moment inputs weaving; races.both_ways moment inputs weaving; whatif.deeds_part one other;
+whatif.parting one other; whatif.with_input past number size; whatif.with_course past place course;
+whatif.with_edit past place edit; whatif.reach_of_edit past place edit; whatif.without_deed past place;
+whatif.lean_past past; sessions.is_deed program thing; sessions.Session start story each; sessions.Session.do self deed;
+sessions.Session.undo self; sessions.Session.redo self; sessions.Session.deeds self; sessions.Session.undone self;
+sessions.Session.past self number; sessions.Session.branches self; sessions.Session.stops self; sessions.Session.looks self;
+sessions.Session.marks self; sessions.Session.moment self; sessions.Session.told self; branches.parents_of session number;
+branches.alike_up_to session one other; branches.partings session; terms.is_term thing; terms.term_text term;
+terms.term_of_text text; terms.deed_text program deed; terms.deed_of_text program text; journals.journal session;
+journals.taken_up start story each lines; journals.trimmed session; ways.least_way session branch place;
+ways.distances session; desk.Desk start story each; desk.Desk.say self line; wronglines.wrong_line text inputs weaving;
+disks.Disk.take_pen self; disks.Disk.write self life thing; disks.Disk.make_sure self life; disks.Disk.cut self life many;
+disks.Disk.fall self kept; disks.Disk.found self; disks.Disk.twin self"""
 
 
 class Signatures(unittest.TestCase):
     def test_parameters_by_their_names(self):
         for row in SIGNATURES.split(";"):
             path, *names = row.split()
-            module, name = path.split(".")
-            found = getattr(importlib.import_module("firstwrong." + module), name)
+            module, *parts = path.split(".")
+            found = importlib.import_module("firstwrong." + module)
+            for part in parts:
+                found = getattr(found, part)
             self.assertEqual(list(inspect.signature(found).parameters), names, path)
-
-    def test_methods_of_a_disk(self):
-        disk = importlib.import_module("firstwrong.disks").Disk
-        for name, names in (("take_pen", []), ("write", ["life", "thing"]), ("make_sure", ["life"]), ("cut", ["life", "many"]),
-                            ("fall", ["kept"]), ("found", []), ("twin", [])):
-            self.assertIn(name, vars(disk))
-            self.assertEqual(list(inspect.signature(getattr(disk, name)).parameters), ["self"] + names)
 
 
 if __name__ == "__main__":
