@@ -74,8 +74,8 @@ def term_read(text):
             opened[-1].append(whole)
         elif sign not in "() ":
             word = word + sign
-        if len(opened) > MOST_DEEP + 1:
-            raise BadTerm("too many tuples stand within one another")
+        if len(opened) > MOST_DEEP + 1 or len(word) > MOST_DIGITS + 1:
+            raise BadTerm("no term is as deep, or as long")
     if len(opened) != 1 or len(opened[0]) != 1:
         raise BadTerm("one term is wanted")
     return opened[0][0]
